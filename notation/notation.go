@@ -1,0 +1,55 @@
+// Package notation has the forms of strings that the chapters share: keys, numbers and lines.
+package notation
+
+import (
+	"strings"
+
+	"holloway/api"
+)
+
+// IsKey says whether a string is a key.
+func IsKey(s string) bool {
+	if s == "" || len(s) > api.MaxName || !isSmall(s[0]) {
+		return false
+	}
+	for i := range len(s) {
+		if !isSmall(s[i]) && !isDigit(s[i]) && s[i] != '-' && s[i] != '_' {
+			return false
+		}
+	}
+	return true
+}
+
+func isSmall(b byte) bool { return 'a' <= b && b <= 'z' }
+
+func isDigit(b byte) bool { return '0' <= b && b <= '9' }
+
+// Number reads a number that is not below 0 and has at most so many digits (18 at the most, so that no sum overflows).
+func Number(s string, digits int) (int, bool) {
+	if s == "" || len(s) > digits || s[0] == '0' && len(s) > 1 {
+		return 0, false
+	}
+	n := 0
+	for i := range len(s) {
+		if !isDigit(s[i]) {
+			return 0, false
+		}
+		n = n*10 + int(s[i]-'0')
+	}
+	return n, true
+}
+
+// ReadLines hands the lines of a text to take, until it says that one has not its form; the int is the number of a line that has not, or that is not ended.
+func ReadLines(text string, take func(line string) bool) (int, api.Errno) {
+	if len(text) > api.MaxText {
+		return 0, api.ErrLarge
+	}
+	for n := 0; text != ""; n++ {
+		line, rest, ended := strings.Cut(text, "\n")
+		if !ended || !take(line) {
+			return n, api.ErrSyntax
+		}
+		text = rest
+	}
+	return 0, api.OK
+}

@@ -1,0 +1,75 @@
+package notation
+
+import (
+	"slices"
+	"strings"
+	"testing"
+
+	"holloway/api"
+)
+
+// Z11
+func TestIsKey(t *testing.T) {
+	long := strings.Repeat("a", api.MaxName)
+	for _, s := range []string{"a", "z", "a0", "z9", "a-", "a_", "az-_09", long} {
+		if !IsKey(s) {
+			t.Errorf("%q is a key", s)
+		}
+	}
+	for _, s := range []string{"", "0", "9", "-", "_", "A", "Z", "aA", "a ", " a", "a.", "a/", "a:", "a`", "a{", "a@", "a[", "a^", "`", "{", "a\n", "a\x00", "é", "aé", "a\xff", long + "a"} {
+		if IsKey(s) {
+			t.Errorf("%q is no key", s)
+		}
+	}
+}
+
+// Z10
+func TestNumber(t *testing.T) {
+	for _, c := range []struct {
+		s      string
+		digits int
+		want   int
+	}{
+		{"0", 1, 0}, {"9", 1, 9}, {"10", 2, 10}, {"255", 3, 255}, {"7", 3, 7}, {"999999999", 9, 999_999_999}, {"999999999999999999", 18, 999_999_999_999_999_999},
+	} {
+		if n, ok := Number(c.s, c.digits); n != c.want || !ok {
+			t.Errorf("%q: %d, %v", c.s, n, ok)
+		}
+	}
+	for _, s := range []string{"", "00", "01", "-0", "-1", "+1", "1 ", " 1", "1.", "a", "1a", "0x1", "1e1", "1_0", "/", ":", "1/", "1:", "1234", "٣", "\n"} {
+		if n, ok := Number(s, 3); n != 0 || ok {
+			t.Errorf("%q: %d, %v", s, n, ok)
+		}
+	}
+}
+
+// Z9, Z10
+func TestReadLines(t *testing.T) {
+	full := strings.Repeat("a", api.MaxText-1) + "\n"
+	for _, c := range []struct {
+		text  string
+		lines []string
+		n     int
+		e     api.Errno
+	}{
+		{"", nil, 0, api.OK},
+		{"\n", []string{""}, 0, api.OK},
+		{"a\n\n b\r\n", []string{"a", "", " b\r"}, 0, api.OK},
+		{"a", nil, 0, api.ErrSyntax},
+		{"a\nb", []string{"a"}, 1, api.ErrSyntax},
+		{"a\nb\nx\nc\n", []string{"a", "b", "x"}, 2, api.ErrSyntax},
+		{"a\nx\nb", []string{"a", "x"}, 1, api.ErrSyntax},
+		{full, []string{full[:api.MaxText-1]}, 0, api.OK},
+		{full + "a", nil, 0, api.ErrLarge},
+		{"x\n" + full, nil, 0, api.ErrLarge},
+	} {
+		var lines []string
+		n, e := ReadLines(c.text, func(line string) bool {
+			lines = append(lines, line)
+			return line != "x"
+		})
+		if n != c.n || e != c.e || !slices.Equal(lines, c.lines) {
+			t.Errorf("%.20q: %d lines, %d, %v", c.text, len(lines), n, e)
+		}
+	}
+}
