@@ -39,6 +39,16 @@ func Number(s string, digits int) (int, bool) {
 	return n, true
 }
 
+// Signed reads a number, also one below 0, with at most so many digits (18 at the most).
+func Signed(s string, digits int) (int, bool) {
+	rest, below := strings.CutPrefix(s, "-")
+	n, ok := Number(rest, digits)
+	if below {
+		return -n, ok && n != 0
+	}
+	return n, ok
+}
+
 // ReadLines hands the lines of a text to take, until it says that one has not its form; the int is the number of a line that has not, or that is not ended.
 func ReadLines(text string, take func(line string) bool) (int, api.Errno) {
 	if len(text) > api.MaxText {

@@ -43,6 +43,26 @@ func TestNumber(t *testing.T) {
 	}
 }
 
+// Z10
+func TestSigned(t *testing.T) {
+	for _, c := range []struct {
+		s      string
+		digits int
+		want   int
+	}{
+		{"0", 1, 0}, {"7", 1, 7}, {"-7", 1, -7}, {"-10", 2, -10}, {"999999999", 9, 999_999_999}, {"-999999999", 9, -999_999_999}, {"-999999999999999999", 18, -999_999_999_999_999_999},
+	} {
+		if n, ok := Signed(c.s, c.digits); n != c.want || !ok {
+			t.Errorf("%q: %d, %v", c.s, n, ok)
+		}
+	}
+	for _, s := range []string{"", "-", "-0", "-00", "-01", "00", "01", "--1", "+1", "- 1", "-1 ", " -1", "1-", "-a", "-1a", "1234", "-1234"} {
+		if n, ok := Signed(s, 3); n != 0 || ok {
+			t.Errorf("%q: %d, %v", s, n, ok)
+		}
+	}
+}
+
 // Z9, Z10
 func TestReadLines(t *testing.T) {
 	full := strings.Repeat("a", api.MaxText-1) + "\n"

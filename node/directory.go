@@ -1,0 +1,99 @@
+// Package node says which machines there are, by what servers have written down.
+package node
+
+import (
+	"cmp"
+	"slices"
+
+	"holloway/api"
+	"holloway/notation"
+)
+
+// CheckDirectory validates a directory.
+func CheckDirectory(d api.Directory) api.Errno {
+	if len(d.Users) > api.MaxUsers {
+		return api.ErrLarge
+	}
+	if e := checkKeys(d.Users); e != api.OK {
+		return e
+	}
+	if e := checkOwners(d.Owners, mapOf(d.Users)); e != api.OK {
+		return e
+	}
+	if d.Life < 1 || d.Life > api.End {
+		return api.ErrArg
+	}
+	return api.OK
+}
+
+// checkKeys validates a list of keys, which rise.
+func checkKeys(l []string) api.Errno {
+	for i, s := range l {
+		if !notation.IsKey(s) {
+			return api.ErrName
+		}
+		if i > 0 && s <= l[i-1] {
+			return api.ErrOrder
+		}
+	}
+	return api.OK
+}
+
+// checkOwners validates the owners of tags.
+func checkOwners(l []api.Owner, users map[string]bool) api.Errno {
+	if len(l) > api.MaxOwned {
+		return api.ErrLarge
+	}
+	for i, o := range l {
+		if !notation.IsKey(o.Tag) {
+			return api.ErrName
+		}
+		if i > 0 && o.Tag <= l[i-1].Tag {
+			return api.ErrOrder
+		}
+		for k, user := range o.Users {
+			if !users[user] {
+				return api.ErrNone
+			}
+			if k > 0 && user <= o.Users[k-1] {
+				return api.ErrOrder
+			}
+		}
+	}
+	return api.OK
+}
+
+// mapOf has the strings of a list.
+func mapOf(l []string) map[string]bool {
+	out := make(map[string]bool, len(l))
+	for _, s := range l {
+		out[s] = true
+	}
+	return out
+}
+
+// need is an error if what must be so is not.
+func need(so bool, e api.Errno) api.Errno {
+	if so {
+		return api.OK
+	}
+	return e
+}
+
+// checkUser is what is wrong with a user who must be one of a directory.
+func checkUser(d api.Directory, user string) api.Errno {
+	return need(slices.Contains(d.Users, user), api.ErrNone)
+}
+
+// Owns says whether a user owns a tag.
+func Owns(d api.Directory, user, tag string) (bool, api.Errno) {
+	if e := cmp.Or(CheckDirectory(d), checkUser(d, user)); e != api.OK {
+		return false, e
+	}
+	for _, o := range d.Owners {
+		if o.Tag == tag {
+			return slices.Contains(o.Users, user), api.OK
+		}
+	}
+	return false, api.ErrNone
+}
