@@ -6,6 +6,7 @@ import (
 	"strings"
 
 	"holloway/api"
+	"holloway/checks"
 	"holloway/notation"
 )
 
@@ -78,7 +79,7 @@ func tagsColumn() column {
 			if len(s.Tags) > api.MaxTags {
 				return api.ErrLarge
 			}
-			return checkKeys(s.Tags)
+			return checks.Keys(s.Tags)
 		},
 		zero:  func(s *api.Step) bool { return len(s.Tags) == 0 },
 		write: func(s *api.Step) string { return orDash(strings.Join(s.Tags, ",")) },

@@ -6,6 +6,7 @@ import (
 	"slices"
 
 	"holloway/api"
+	"holloway/checks"
 	"holloway/notation"
 )
 
@@ -14,7 +15,7 @@ func CheckDirectory(d api.Directory) api.Errno {
 	if len(d.Users) > api.MaxUsers {
 		return api.ErrLarge
 	}
-	if e := checkKeys(d.Users); e != api.OK {
+	if e := checks.Keys(d.Users); e != api.OK {
 		return e
 	}
 	if e := checkOwners(d.Owners, mapOf(d.Users)); e != api.OK {
@@ -22,19 +23,6 @@ func CheckDirectory(d api.Directory) api.Errno {
 	}
 	if d.Life < 1 || d.Life > api.End {
 		return api.ErrArg
-	}
-	return api.OK
-}
-
-// checkKeys validates a list of keys, which rise.
-func checkKeys(l []string) api.Errno {
-	for i, s := range l {
-		if !notation.IsKey(s) {
-			return api.ErrName
-		}
-		if i > 0 && s <= l[i-1] {
-			return api.ErrOrder
-		}
 	}
 	return api.OK
 }

@@ -1,10 +1,11 @@
 package node
 
 import (
+	"cmp"
 	"slices"
 
-	"holloway/addr"
 	"holloway/api"
+	"holloway/checks"
 	"holloway/notation"
 )
 
@@ -21,44 +22,8 @@ func checkPlaces(l []api.Place) api.Errno {
 		if i > 0 && p.Node <= l[i-1].Node {
 			return api.ErrOrder
 		}
-		if e := checkAddrs(p.Addrs, taken); e != api.OK {
+		if e := cmp.Or(checks.Addrs(p.Addrs, taken, api.ErrConflict), checks.Routes(p.Routes)); e != api.OK {
 			return e
-		}
-		if e := checkRoutes(p.Routes); e != api.OK {
-			return e
-		}
-	}
-	return api.OK
-}
-
-// checkAddrs validates the addresses of a place, and notes that they are taken.
-func checkAddrs(l []api.Addr, taken map[api.Addr]bool) api.Errno {
-	if len(l) > api.MaxAddrs {
-		return api.ErrLarge
-	}
-	for _, a := range l {
-		if e := addr.CheckAddr(a); e != api.OK {
-			return e
-		}
-		if taken[a] {
-			return api.ErrConflict
-		}
-		taken[a] = true
-	}
-	return api.OK
-}
-
-// checkRoutes validates the routes of a place.
-func checkRoutes(l []api.Prefix) api.Errno {
-	if len(l) > api.MaxRoutes {
-		return api.ErrLarge
-	}
-	for i, p := range l {
-		if e := addr.CheckPrefix(p); e != api.OK {
-			return e
-		}
-		if slices.Contains(l[:i], p) {
-			return api.ErrTwice
 		}
 	}
 	return api.OK

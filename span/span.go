@@ -135,12 +135,11 @@ func Cuts(lists ...[]api.Range) []api.Addr {
 	return slices.Compact(out)
 }
 
-// Combine is the least list of the addresses that keep wants, which is told whether they are in a, and in b (two least lists).
-func Combine(a, b []api.Range, keep func(inA, inB bool) bool) []api.Range {
+// Where is the least list of the addresses for which holds says so: it is asked for each cut, and says the same up to the next one.
+func Where(cuts []api.Addr, holds func(a api.Addr) bool) []api.Range {
 	var out []api.Range
-	cuts := Cuts(a, b)
 	for i, first := range cuts {
-		if !keep(Has(a, first), Has(b, first)) {
+		if !holds(first) {
 			continue
 		}
 		last := whole(first.Six).Last
@@ -150,6 +149,11 @@ func Combine(a, b []api.Range, keep func(inA, inB bool) bool) []api.Range {
 		out = append(out, api.Range{First: first, Last: last})
 	}
 	return Join(out)
+}
+
+// Combine is the least list of the addresses that keep wants, which is told whether they are in a, and in b (two least lists).
+func Combine(a, b []api.Range, keep func(inA, inB bool) bool) []api.Range {
+	return Where(Cuts(a, b), func(x api.Addr) bool { return keep(Has(a, x), Has(b, x)) })
 }
 
 // Prefixes goes through the least list of prefixes with the addresses of a least list of ranges.

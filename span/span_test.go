@@ -79,6 +79,19 @@ func TestCuts(t *testing.T) {
 	is(t, "Cuts", Cuts([]api.Range{{First: api.Addr{Six: true, Lo: 4}, Last: top6}}), []api.Addr{{}, {Six: true}, {Six: true, Lo: 4}})
 }
 
+// P3.4: it is asked once for each cut; neighbours are joined, but not those of two lengths.
+func TestWhere(t *testing.T) {
+	cuts := Cuts([]api.Range{from(2, 2), from(5, 9)}, []api.Range{{First: api.Addr{Six: true, Lo: 4}, Last: top6}})
+	var asked []api.Addr
+	got := Where(cuts, func(a api.Addr) bool {
+		asked = append(asked, a)
+		return a.Lo != 3 && a.Lo != 4
+	})
+	is(t, "Where", asked, cuts)
+	is(t, "Where", got, []api.Range{from(0, 2), from(5, math.MaxUint32), {First: api.Addr{Six: true}, Last: api.Addr{Six: true, Lo: 3}}})
+	is(t, "Where", len(Where(cuts, func(api.Addr) bool { return false })), 0)
+}
+
 // P1.3: lists have no limit here.
 func TestLongLists(t *testing.T) {
 	var odd, even []api.Prefix

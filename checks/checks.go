@@ -1,0 +1,77 @@
+// Package checks has the checks of parts of values that the chapters share.
+package checks
+
+import (
+	"cmp"
+	"slices"
+
+	"holloway/addr"
+	"holloway/api"
+	"holloway/notation"
+	"holloway/ports"
+)
+
+// Keys is what is wrong with a list of keys, which rise.
+func Keys(l []string) api.Errno {
+	for i, s := range l {
+		if !notation.IsKey(s) {
+			return api.ErrName
+		}
+		if i > 0 && s <= l[i-1] {
+			return api.ErrOrder
+		}
+	}
+	return api.OK
+}
+
+// Addrs is what is wrong with the addresses of a node; it notes in taken which ones there are, and the error of one that is there already is again.
+func Addrs(l []api.Addr, taken map[api.Addr]bool, again api.Errno) api.Errno {
+	if len(l) > api.MaxAddrs {
+		return api.ErrLarge
+	}
+	for _, a := range l {
+		if e := addr.CheckAddr(a); e != api.OK {
+			return e
+		}
+		if taken[a] {
+			return again
+		}
+		taken[a] = true
+	}
+	return api.OK
+}
+
+// Routes is what is wrong with the routes of a node.
+func Routes(l []api.Prefix) api.Errno {
+	if len(l) > api.MaxRoutes {
+		return api.ErrLarge
+	}
+	for i, p := range l {
+		if e := addr.CheckPrefix(p); e != api.OK {
+			return e
+		}
+		if slices.Contains(l[:i], p) {
+			return api.ErrTwice
+		}
+	}
+	return api.OK
+}
+
+// Flow is what is wrong with a flow.
+func Flow(f api.Flow) api.Errno {
+	if f.Proto < 1 || f.Proto > api.MaxProto {
+		return api.ErrArg
+	}
+	if e := cmp.Or(addr.CheckAddr(f.From), addr.CheckAddr(f.To)); e != api.OK {
+		return e
+	}
+	if f.From.Six != f.To.Six {
+		return api.ErrType
+	}
+	for _, port := range [2]int{f.FromPort, f.ToPort} {
+		if port < 0 || port > api.MaxPort || port > 0 && !ports.UsedBy(f.Proto) {
+			return api.ErrArg
+		}
+	}
+	return api.OK
+}

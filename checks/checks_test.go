@@ -1,0 +1,95 @@
+package checks
+
+import (
+	"math"
+	"testing"
+
+	"holloway/api"
+)
+
+func is(t *testing.T, name string, got, want api.Errno) {
+	t.Helper()
+	if got != want {
+		t.Errorf("%s: got %v, want %v", name, got, want)
+	}
+}
+
+// P2.1, P3.1
+func TestKeys(t *testing.T) {
+	for _, l := range [][]string{nil, {"a"}, {"a", "a-", "a0", "b"}} {
+		is(t, "Keys", Keys(l), api.OK)
+	}
+	for _, l := range [][]string{{""}, {"A"}, {"a", "B"}, {"b", "A"}, {"A", "b", "a"}} {
+		is(t, "Keys", Keys(l), api.ErrName)
+	}
+	for _, l := range [][]string{{"a", "a"}, {"b", "a"}, {"b", "a", "A"}} {
+		is(t, "Keys", Keys(l), api.ErrOrder)
+	}
+}
+
+// P2.6, P3.1
+func TestAddrs(t *testing.T) {
+	taken := map[api.Addr]bool{}
+	is(t, "Addrs", Addrs([]api.Addr{{Lo: 1}, {Six: true, Lo: 1}, {Lo: 2}, {}}, taken, api.ErrTwice), api.OK)
+	is(t, "another place", Addrs([]api.Addr{{Lo: 3}, {Lo: 2}}, taken, api.ErrConflict), api.ErrConflict)
+	is(t, "the same place", Addrs([]api.Addr{{Lo: 4}, {Lo: 4}}, taken, api.ErrTwice), api.ErrTwice)
+	is(t, "too many", Addrs(make([]api.Addr, api.MaxAddrs+1), taken, api.ErrTwice), api.ErrLarge)
+	is(t, "no address", Addrs([]api.Addr{{Lo: 1 << 32}, {Lo: 1}}, taken, api.ErrTwice), api.ErrForm)
+	is(t, "again, ahead of no address", Addrs([]api.Addr{{Lo: 1}, {Hi: 1}}, taken, api.ErrTwice), api.ErrTwice)
+}
+
+// P2.6, P3.1
+func TestRoutes(t *testing.T) {
+	net := func(lo uint64, bits int) api.Prefix { return api.Prefix{Addr: api.Addr{Lo: lo}, Bits: bits} }
+	is(t, "Routes", Routes([]api.Prefix{net(0, 0), net(0, 8), net(0, 7), {Addr: api.Addr{Six: true}}}), api.OK)
+	is(t, "again", Routes([]api.Prefix{net(0, 8), net(0, 9), net(0, 8), net(1, 8)}), api.ErrTwice)
+	is(t, "no prefix", Routes([]api.Prefix{net(1, 8), net(0, 8), net(0, 8)}), api.ErrForm)
+	is(t, "bits", Routes([]api.Prefix{net(0, 33)}), api.ErrArg)
+	is(t, "too many", Routes(make([]api.Prefix, api.MaxRoutes+1)), api.ErrLarge)
+}
+
+// P3.2, Z4, Z6
+func TestFlow(t *testing.T) {
+	right := api.Flow{Proto: 6, From: api.Addr{Lo: 1}, To: api.Addr{Lo: 2}, FromPort: 3, ToPort: 4}
+	breaks := []struct {
+		name string
+		do   func(f *api.Flow)
+		e    api.Errno
+	}{
+		{"no protocol", func(f *api.Flow) { f.Proto = 0 }, api.ErrArg},
+		{"a low protocol", func(f *api.Flow) { f.Proto = math.MinInt }, api.ErrArg},
+		{"a high protocol", func(f *api.Flow) { f.Proto = api.MaxProto + 1 }, api.ErrArg},
+		{"From", func(f *api.Flow) { f.From = api.Addr{Lo: 1 << 32} }, api.ErrForm},
+		{"To", func(f *api.Flow) { f.To = api.Addr{Hi: 1} }, api.ErrForm},
+		{"To is longer", func(f *api.Flow) { f.To.Six = true }, api.ErrType},
+		{"From is longer", func(f *api.Flow) { f.From.Six = true }, api.ErrType},
+		{"a low FromPort", func(f *api.Flow) { f.FromPort = -1 }, api.ErrArg},
+		{"a high FromPort", func(f *api.Flow) { f.FromPort = api.MaxPort + 1 }, api.ErrArg},
+		{"a low ToPort", func(f *api.Flow) { f.ToPort = math.MinInt }, api.ErrArg},
+		{"a high ToPort", func(f *api.Flow) { f.ToPort = math.MaxInt }, api.ErrArg},
+		{"a FromPort of ICMP", func(f *api.Flow) { f.Proto, f.ToPort = 1, 0 }, api.ErrArg},
+		{"a ToPort of ICMP", func(f *api.Flow) { f.Proto, f.FromPort = 1, 0 }, api.ErrArg},
+	}
+	for _, c := range breaks {
+		f := right
+		c.do(&f)
+		is(t, c.name, Flow(f), c.e)
+	}
+	// Each one is told ahead of the addresses and ports that are wrong behind it.
+	f := right
+	f.ToPort = -1
+	for _, i := range []int{5, 4, 3, 2} {
+		breaks[i].do(&f)
+		is(t, breaks[i].name, Flow(f), breaks[i].e)
+	}
+	for proto := 1; proto <= api.MaxProto; proto++ {
+		is(t, "no ports", Flow(api.Flow{Proto: proto}), api.OK)
+		want := api.ErrArg
+		if proto == api.ProtoTcp || proto == api.ProtoUdp {
+			want = api.OK
+		}
+		is(t, "ToPort", Flow(api.Flow{Proto: proto, ToPort: api.MaxPort}), want)
+		is(t, "FromPort", Flow(api.Flow{Proto: proto, FromPort: api.MaxPort}), want)
+	}
+	is(t, "128 bits", Flow(api.Flow{Proto: 6, From: api.Addr{Six: true, Hi: 1}, To: api.Addr{Six: true}}), api.OK)
+}

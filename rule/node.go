@@ -1,0 +1,78 @@
+package rule
+
+import (
+	"cmp"
+	"strings"
+
+	"holloway/api"
+	"holloway/checks"
+	"holloway/notation"
+)
+
+// CheckNodes validates nodes.
+func CheckNodes(l []api.Node) api.Errno {
+	if len(l) > api.MaxNodes {
+		return api.ErrLarge
+	}
+	taken := map[api.Addr]bool{}
+	for i, n := range l {
+		if !notation.IsKey(n.Key) || !notation.IsKey(n.Name) {
+			return api.ErrName
+		}
+		if i > 0 && n.Key <= l[i-1].Key {
+			return api.ErrOrder
+		}
+		if e := cmp.Or(checkHolder(n), checks.Addrs(n.Addrs, taken, api.ErrTwice), checks.Routes(n.Routes)); e != api.OK {
+			return e
+		}
+	}
+	return api.OK
+}
+
+// checkHolder is what is wrong with the user of a node, or with its tags.
+func checkHolder(n api.Node) api.Errno {
+	if n.User != "" && !notation.IsKey(n.User) {
+		return api.ErrName
+	}
+	if len(n.Tags) > api.MaxTags {
+		return api.ErrLarge
+	}
+	if e := checks.Keys(n.Tags); e != api.OK {
+		return e
+	}
+	if (n.User == "") == (len(n.Tags) == 0) {
+		return api.ErrForm
+	}
+	return api.OK
+}
+
+// compareFacts orders facts by their nodes, then by their postures.
+func compareFacts(x, y api.Fact) int {
+	return cmp.Or(strings.Compare(x.Node, y.Node), strings.Compare(x.Posture, y.Posture))
+}
+
+// CheckFacts validates facts about nodes.
+func CheckFacts(nodes []api.Node, l []api.Fact) api.Errno {
+	if e := CheckNodes(nodes); e != api.OK {
+		return e
+	}
+	if len(l) > api.MaxFacts {
+		return api.ErrLarge
+	}
+	known := make(map[string]bool, len(nodes))
+	for _, n := range nodes {
+		known[n.Key] = true
+	}
+	for i, f := range l {
+		if !known[f.Node] {
+			return api.ErrNone
+		}
+		if !notation.IsKey(f.Posture) {
+			return api.ErrName
+		}
+		if i > 0 && compareFacts(f, l[i-1]) <= 0 {
+			return api.ErrOrder
+		}
+	}
+	return api.OK
+}
