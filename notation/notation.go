@@ -63,3 +63,25 @@ func ReadLines(text string, take func(line string) bool) (int, api.Errno) {
 	}
 	return 0, api.OK
 }
+
+// List writes the parts of a list with commas between.
+func List[T any](l []T, text func(x T) string) string {
+	var parts []string
+	for _, x := range l {
+		parts = append(parts, text(x))
+	}
+	return strings.Join(parts, ",")
+}
+
+// ReadList reads parts with commas between, one at the least.
+func ReadList[T any](s string, read func(part string) (T, bool)) ([]T, bool) {
+	var out []T
+	for part := range strings.SplitSeq(s, ",") {
+		x, ok := read(part)
+		if !ok {
+			return nil, false
+		}
+		out = append(out, x)
+	}
+	return out, true
+}

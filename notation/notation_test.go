@@ -2,6 +2,7 @@ package notation
 
 import (
 	"slices"
+	"strconv"
 	"strings"
 	"testing"
 
@@ -90,6 +91,30 @@ func TestReadLines(t *testing.T) {
 		})
 		if n != c.n || e != c.e || !slices.Equal(lines, c.lines) {
 			t.Errorf("%.20q: %d lines, %d, %v", c.text, len(lines), n, e)
+		}
+	}
+}
+
+// P3.6, P4.4, Z10
+func TestList(t *testing.T) {
+	number := func(s string) (int, bool) { return Number(s, 2) }
+	for _, c := range []struct {
+		s string
+		l []int
+	}{{"7", []int{7}}, {"7,0,12", []int{7, 0, 12}}, {"1,1", []int{1, 1}}} {
+		if s := List(c.l, strconv.Itoa); s != c.s {
+			t.Errorf("%v: %q", c.l, s)
+		}
+		if l, ok := ReadList(c.s, number); !slices.Equal(l, c.l) || !ok {
+			t.Errorf("%q: %v, %v", c.s, l, ok)
+		}
+	}
+	if s := List(nil, strconv.Itoa); s != "" {
+		t.Errorf("no parts: %q", s)
+	}
+	for _, s := range []string{"", ",", "7,", ",7", "7,,8", "7;8", "7, 8", "7,x", "7,123"} {
+		if l, ok := ReadList(s, number); len(l) != 0 || ok {
+			t.Errorf("%q: %v, %v", s, l, ok)
 		}
 	}
 }

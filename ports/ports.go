@@ -1,12 +1,17 @@
-// Package ports computes with ranges of ports. Its lists are in any order, and their ranges are right.
+// Package ports computes with ranges of ports, and writes and reads them. Its lists are in any order, where nothing else is said, and their ranges are right.
 package ports
 
 import (
 	"cmp"
 	"slices"
+	"strconv"
+	"strings"
 
 	"holloway/api"
+	"holloway/notation"
 )
+
+const maxDigits = 9
 
 // UsedBy says whether flows of a protocol have ports.
 func UsedBy(proto int) bool { return proto == api.ProtoTcp || proto == api.ProtoUdp }
@@ -37,6 +42,20 @@ func Join(l []api.Ports) []api.Ports {
 	return out
 }
 
+// Covers says whether a least list has all ports of another one.
+func Covers(a, b []api.Ports) bool {
+	i := 0
+	for _, p := range b {
+		for i < len(a) && a[i].To < p.To {
+			i++
+		}
+		if i == len(a) || p.From < a[i].From {
+			return false
+		}
+	}
+	return true
+}
+
 // Differ is the least port that is in a range of just one of two lists, and whether there is one.
 func Differ(a, b []api.Ports) (int, bool) {
 	a, b = Join(a), Join(b)
@@ -56,4 +75,23 @@ func Differ(a, b []api.Ports) (int, bool) {
 	}
 	// The list of the shorter one has nothing just behind its end.
 	return min(a[n].To, b[n].To) + 1, true
+}
+
+// Text writes a range, right or not.
+func Text(p api.Ports) string {
+	if p.From == p.To {
+		return strconv.Itoa(p.From)
+	}
+	return strconv.Itoa(p.From) + "-" + strconv.Itoa(p.To)
+}
+
+// Read reads the range with a text; it need not be right.
+func Read(s string) (api.Ports, bool) {
+	first, last, two := strings.Cut(s, "-")
+	from, ok := notation.Number(first, maxDigits)
+	if !ok || !two {
+		return api.Ports{From: from, To: from}, ok
+	}
+	to, ok := notation.Number(last, maxDigits)
+	return api.Ports{From: from, To: to}, ok && from != to
 }

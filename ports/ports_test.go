@@ -78,3 +78,39 @@ func TestLists(t *testing.T) {
 	}
 	is(t, "Join", len(Join(nil)), 0)
 }
+
+// P4.3: least lists are held against the ports one by one.
+func TestCovers(t *testing.T) {
+	r := rand.New(rand.NewSource(4))
+	count := map[bool]int{}
+	for i := range 5_000 {
+		first := []int{0, api.MaxPort - 15}[i%2]
+		a, b := Join(some(r, first)), Join(some(r, first))
+		want := true
+		for port := first; port <= first+15; port++ {
+			want = want && (inOne(a, port) || !inOne(b, port))
+		}
+		is(t, "Covers", Covers(a, b), want)
+		is(t, "Covers", Covers(a, a), true)
+		count[want]++
+	}
+	is(t, "Covers", count[true] > 500 && count[false] > 500, true)
+}
+
+// P3.6, P4.4, Z10
+func TestText(t *testing.T) {
+	for _, c := range []struct {
+		p api.Ports
+		s string
+	}{
+		{api.Ports{}, "0"}, {api.Ports{From: 80, To: 80}, "80"}, {api.Ports{From: 80, To: 90}, "80-90"}, {api.Ports{From: 90, To: 80}, "90-80"}, {All(), "0-65535"}, {api.Ports{To: 999_999_999}, "0-999999999"},
+	} {
+		is(t, "Text", Text(c.p), c.s)
+		p, ok := Read(c.s)
+		is(t, "Read", []any{p, ok}, []any{c.p, true})
+	}
+	for _, s := range []string{"", "-", "80-", "-80", "80-80", "080", "80-090", "080-90", "80--90", "80-90-99", "80 ", " 80", "80,90", "+80", "x", "80-x", "x-80", "1000000000", "80-1000000000"} {
+		_, ok := Read(s)
+		is(t, s, ok, false)
+	}
+}

@@ -73,8 +73,8 @@ func (r *reader) takeGrant(words []string) bool {
 	if len(words) < 3 || words[1] != wordArrow {
 		return false
 	}
-	src, srcOK := readList(words[0], readWhat)
-	dst, dstOK := readList(words[2], readTarget)
+	src, srcOK := notation.ReadList(words[0], readWhat)
+	dst, dstOK := notation.ReadList(words[2], readTarget)
 	g := api.Grant{Src: src, Dst: dst}
 	rest, protoOK := readOption(words[3:], wordProto, func(word string) bool {
 		n, ok := notation.Signed(word, maxDigits)
@@ -82,7 +82,7 @@ func (r *reader) takeGrant(words []string) bool {
 		return ok && n != api.ProtoAll
 	})
 	rest, postureOK := readOption(rest, wordPosture, func(word string) bool {
-		l, ok := readList(word, readName)
+		l, ok := notation.ReadList(word, readName)
 		g.Postures = l
 		return ok
 	})
@@ -115,19 +115,6 @@ func (r *reader) takeTest(accept bool, words []string) bool {
 	f := api.Flow{Proto: numbers[0], From: from, To: to, FromPort: numbers[1], ToPort: numbers[2]}
 	r.policy.Tests = append(r.policy.Tests, api.Test{Flow: f, Accept: accept})
 	return fromError == api.OK && toError == api.OK
-}
-
-// readList reads parts with commas between.
-func readList[T any](s string, read func(part string) (T, bool)) ([]T, bool) {
-	var out []T
-	for _, part := range strings.Split(s, ",") {
-		x, ok := read(part)
-		if !ok {
-			return nil, false
-		}
-		out = append(out, x)
-	}
-	return out, true
 }
 
 // readName reads a name, which need not be a key.
@@ -169,19 +156,8 @@ func readTarget(s string) (api.Target, bool) {
 	if !ok || !some {
 		return t, ok
 	}
-	t.Ports, ok = readPorts(text)
-	return t, ok && portsText(t.Ports) == ";"+text
-}
-
-// readPorts reads a port, or the first and the last one.
-func readPorts(s string) (api.Ports, bool) {
-	first, last, both := strings.Cut(s, "-")
-	if !both {
-		last = first
-	}
-	from, fromOK := notation.Number(first, maxDigits)
-	to, toOK := notation.Number(last, maxDigits)
-	return api.Ports{From: from, To: to}, fromOK && toOK
+	t.Ports, ok = ports.Read(text)
+	return t, ok && t.Ports != ports.All()
 }
 
 // Read reads a policy.

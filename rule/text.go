@@ -7,6 +7,7 @@ import (
 
 	"holloway/addr"
 	"holloway/api"
+	"holloway/notation"
 	"holloway/ports"
 )
 
@@ -21,15 +22,6 @@ const (
 	wordAccept  = "accept"
 	wordDeny    = "deny"
 )
-
-// joined writes the parts of a list with commas between.
-func joined[T any](l []T, text func(x T) string) string {
-	var parts []string
-	for _, x := range l {
-		parts = append(parts, text(x))
-	}
-	return strings.Join(parts, ",")
-}
 
 // netText writes a prefix that is right.
 func netText(p api.Prefix) string {
@@ -55,22 +47,16 @@ func whatText(w api.What) string {
 	return f.word
 }
 
-// portsText writes the ports of a target, right or not.
-func portsText(p api.Ports) string {
-	switch {
-	case p == ports.All():
-		return ""
-	case p.From == p.To:
-		return ";" + strconv.Itoa(p.From)
+func targetText(t api.Target) string {
+	if t.Ports == ports.All() {
+		return whatText(t.What)
 	}
-	return ";" + strconv.Itoa(p.From) + "-" + strconv.Itoa(p.To)
+	return whatText(t.What) + ";" + ports.Text(t.Ports)
 }
-
-func targetText(t api.Target) string { return whatText(t.What) + portsText(t.Ports) }
 
 // grantWords are the words of the line of a grant.
 func grantWords(g api.Grant) []string {
-	out := []string{wordGrant, joined(g.Src, whatText), wordArrow, joined(g.Dst, targetText)}
+	out := []string{wordGrant, notation.List(g.Src, whatText), wordArrow, notation.List(g.Dst, targetText)}
 	if g.Proto != api.ProtoAll {
 		out = append(out, wordProto, strconv.Itoa(g.Proto))
 	}

@@ -77,7 +77,7 @@ func (v *view) find(w api.What) []api.Range {
 	var out []api.Range
 	for i := range v.scene.Nodes {
 		if n := &v.scene.Nodes[i]; names(n) {
-			out = append(out, singles(n.Addrs)...)
+			out = append(out, span.Singles(n.Addrs)...)
 		}
 	}
 	return span.Join(out)
@@ -103,20 +103,11 @@ func (v *view) namer(w api.What) func(n *api.Node) bool {
 	return func(*api.Node) bool { return false }
 }
 
-// singles are ranges of one address each.
-func singles(l []api.Addr) []api.Range {
-	var out []api.Range
-	for _, a := range l {
-		out = append(out, api.Range{First: a, Last: a})
-	}
-	return out
-}
-
 // edges are ranges at whose ends alone it can change what is decided of an address.
 func (v *view) edges() []api.Range {
 	var out []api.Range
 	for _, n := range v.scene.Nodes {
-		out = append(out, singles(n.Addrs)...)
+		out = append(out, span.Singles(n.Addrs)...)
 	}
 	for _, h := range v.scene.Policy.Hosts {
 		out = append(out, span.RangeOf(h.Net))

@@ -100,6 +100,15 @@ func touches(x, y api.Range) bool {
 	return !ok || Compare(y.First, behind) <= 0
 }
 
+// Singles are ranges of one address each.
+func Singles(l []api.Addr) []api.Range {
+	var out []api.Range
+	for _, a := range l {
+		out = append(out, api.Range{First: a, Last: a})
+	}
+	return out
+}
+
 // Of is the least list of the addresses of prefixes in any order.
 func Of(l []api.Prefix) []api.Range {
 	out := make([]api.Range, 0, len(l))
@@ -118,6 +127,20 @@ func Has(l []api.Range, a api.Addr) bool {
 		return max(Compare(r.First, a), 0)
 	})
 	return ok
+}
+
+// Covers says whether a least list has all addresses of another one.
+func Covers(a, b []api.Range) bool {
+	i := 0
+	for _, r := range b {
+		for i < len(a) && Compare(a[i].Last, r.Last) < 0 {
+			i++
+		}
+		if i == len(a) || Compare(r.First, a[i].First) < 0 {
+			return false
+		}
+	}
+	return true
 }
 
 // Cuts are the addresses, rising, from each of which on up to the next one (or the last one of its length) all addresses are in the same ranges of the lists, which can overlap.

@@ -70,6 +70,33 @@ func TestHas(t *testing.T) {
 	is(t, "Has", Has(l, top4), true)
 }
 
+// P3.1, P4.2
+func TestSingles(t *testing.T) {
+	is(t, "Singles", Singles([]api.Addr{{Lo: 7}, {Lo: 6}, {Six: true, Hi: 1}}), []api.Range{from(7, 7), from(6, 6), {First: api.Addr{Six: true, Hi: 1}, Last: api.Addr{Six: true, Hi: 1}}})
+	is(t, "Singles", len(Singles(nil)), 0)
+}
+
+// P4.3: lists are held against the addresses one by one.
+func TestCovers(t *testing.T) {
+	six := api.Range{First: api.Addr{Six: true}, Last: top6}
+	for i := range 1 << 12 {
+		var lists [2][]api.Range
+		for k := range 6 {
+			for n := range lists {
+				if i>>(6*n+k)&1 == 1 {
+					lists[n] = append(lists[n], from(uint64(k), uint64(k)))
+				}
+			}
+		}
+		a, b := Join(lists[0]), Join(lists[1])
+		want := i>>6&^i&63 == 0
+		is(t, "Covers", Covers(a, b), want)
+		is(t, "Covers", Covers(append(a, six), b), want)
+		is(t, "Covers", Covers(append(a, six), append(b, six)), want)
+		is(t, "Covers", Covers(a, append(b, six)), false)
+	}
+}
+
 // P1.5: ranges of the lists can overlap.
 func TestCuts(t *testing.T) {
 	at := func(n uint64) api.Addr { return api.Addr{Lo: n} }
