@@ -187,7 +187,7 @@ func TestBack(t *testing.T) {
 	}
 }
 
-// Bytes of packets, as another program wrote them.
+// Bytes of packets, as a separate script wrote them by the same chapter.
 var written = []struct {
 	p api.Packet
 	b string
