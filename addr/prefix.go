@@ -20,11 +20,6 @@ func CheckPrefix(p api.Prefix) api.Errno {
 	return e
 }
 
-// comparePrefix orders prefixes by their addresses, then by their bits.
-func comparePrefix(p, q api.Prefix) int {
-	return cmp.Or(Compare(p.Addr, q.Addr), cmp.Compare(p.Bits, q.Bits))
-}
-
 // Mask is the prefix in which an address is.
 func Mask(a api.Addr, n int) (api.Prefix, api.Errno) {
 	if e := CheckAddr(a); e != api.OK {

@@ -4,7 +4,6 @@ import (
 	"cmp"
 	"math/bits"
 	"slices"
-	"strings"
 
 	"holloway/api"
 	"holloway/notation"
@@ -183,27 +182,17 @@ func SetText(s []api.Prefix) (string, api.Errno) {
 	if e := CheckSet(s); e != api.OK {
 		return "", e
 	}
-	var out strings.Builder
-	for _, p := range s {
+	return notation.Lines(s, func(p api.Prefix) string {
 		line, _ := PrefixText(p)
-		out.WriteString(line + "\n")
-	}
-	return out.String(), api.OK
+		return line
+	})
 }
 
 // ReadSet reads a set.
 func ReadSet(text string) ([]api.Prefix, int, api.Errno) {
-	var out []api.Prefix
-	n, e := notation.ReadLines(text, func(line string) bool {
+	read := func(line string) (api.Prefix, bool) {
 		p, e := ParsePrefix(line)
-		out = append(out, p)
-		return e == api.OK
-	})
-	if e == api.OK {
-		e = CheckSet(out)
+		return p, e == api.OK
 	}
-	if e != api.OK {
-		return nil, n, e
-	}
-	return out, 0, api.OK
+	return notation.ReadParts(text, read, CheckSet)
 }

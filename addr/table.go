@@ -20,7 +20,7 @@ func CheckTable(t []api.Entry) api.Errno {
 		if !notation.IsKey(x.To) {
 			return api.ErrName
 		}
-		if i > 0 && comparePrefix(x.Prefix, t[i-1].Prefix) <= 0 {
+		if i > 0 && span.ComparePrefixes(x.Prefix, t[i-1].Prefix) <= 0 {
 			return api.ErrOrder
 		}
 	}

@@ -9,7 +9,44 @@ import (
 	"holloway/api"
 	"holloway/notation"
 	"holloway/ports"
+	"holloway/times"
 )
+
+// Need is an error if what must be so is not.
+func Need(so bool, e api.Errno) api.Errno {
+	if so {
+		return api.OK
+	}
+	return e
+}
+
+// Key is what is wrong with a key.
+func Key(s string) api.Errno { return Need(notation.IsKey(s), api.ErrName) }
+
+// Number is what is wrong with a number that must be from one to another one.
+func Number(n, least, most int) api.Errno { return Need(least <= n && n <= most, api.ErrArg) }
+
+// Moment is what is wrong with a moment.
+func Moment(at int) api.Errno { return Need(times.IsMoment(at), api.ErrArg) }
+
+// Window is what is wrong with a window of moments.
+func Window(w api.Window) api.Errno { return Need(times.IsWindow(w), api.ErrArg) }
+
+// Rising is what is wrong with a list of at most so many parts, of which each one is right and comes behind the one before.
+func Rising[T any](l []T, most int, check func(x T) api.Errno, compare func(x, y T) int) api.Errno {
+	if len(l) > most {
+		return api.ErrLarge
+	}
+	for i, x := range l {
+		if e := check(x); e != api.OK {
+			return e
+		}
+		if i > 0 && compare(x, l[i-1]) <= 0 {
+			return api.ErrOrder
+		}
+	}
+	return api.OK
+}
 
 // Keys is what is wrong with a list of keys, which rise.
 func Keys(l []string) api.Errno {

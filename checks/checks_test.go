@@ -14,6 +14,49 @@ func is(t *testing.T, name string, got, want api.Errno) {
 	}
 }
 
+// Z11
+func TestSmallOnes(t *testing.T) {
+	is(t, "Need", Need(true, api.ErrRule), api.OK)
+	is(t, "Need", Need(false, api.ErrRule), api.ErrRule)
+	is(t, "Key", Key("a-0"), api.OK)
+	is(t, "no key", Key("A"), api.ErrName)
+	for _, n := range []int{-3, 0, 7} {
+		is(t, "Number", Number(n, -3, 7), api.OK)
+	}
+	for _, n := range []int{math.MinInt, -4, 8, math.MaxInt} {
+		is(t, "no such number", Number(n, -3, 7), api.ErrArg)
+	}
+	is(t, "Moment", Moment(api.End-1), api.OK)
+	is(t, "no moment", Moment(api.End), api.ErrArg)
+	is(t, "Window", Window(api.Window{From: 0, To: api.End}), api.OK)
+	is(t, "no window", Window(api.Window{From: 1, To: 0}), api.ErrArg)
+}
+
+// P5.1, P5.4, P5.5, P5.6, Z4
+func TestRising(t *testing.T) {
+	check := func(n int) api.Errno { return Need(n >= 0, api.ErrForm) }
+	compare := func(x, y int) int { return (x - y) / 10 }
+	for _, c := range []struct {
+		l []int
+		e api.Errno
+	}{
+		{nil, api.OK},
+		{[]int{0}, api.OK},
+		{[]int{0, 10, 20}, api.OK},
+		{[]int{-1}, api.ErrForm},
+		{[]int{0, 10, -1}, api.ErrForm},
+		{[]int{0, 9}, api.ErrOrder},
+		{[]int{10, 0}, api.ErrOrder},
+		{[]int{0, 10, 10}, api.ErrOrder},
+		{[]int{0, 0, -1}, api.ErrOrder},
+		{[]int{20, -1, 0}, api.ErrForm},
+		{[]int{-1, -1, -1, -1}, api.ErrLarge},
+		{[]int{0, 10, 20, 30}, api.ErrLarge},
+	} {
+		is(t, "Rising", Rising(c.l, 3, check, compare), c.e)
+	}
+}
+
 // P2.1, P3.1
 func TestKeys(t *testing.T) {
 	for _, l := range [][]string{nil, {"a"}, {"a", "a-", "a0", "b"}} {

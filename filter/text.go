@@ -48,15 +48,10 @@ func Text(l []api.Filter) (string, api.Errno) {
 	if e := Check(l); e != api.OK {
 		return "", e
 	}
-	var out strings.Builder
-	for _, f := range l {
+	return notation.Lines(l, func(f api.Filter) string {
 		words := []string{protoText(f.Proto), notation.List(f.Src, prefixText), notation.List(f.Dst, prefixText), notation.List(f.Ports, ports.Text)}
-		out.WriteString(strings.Join(words, " ") + "\n")
-	}
-	if out.Len() > api.MaxText {
-		return "", api.ErrLarge
-	}
-	return out.String(), api.OK
+		return strings.Join(words, " ")
+	})
 }
 
 // readFilter reads a line; the row need not be right.
@@ -74,17 +69,5 @@ func readFilter(line string) (api.Filter, bool) {
 
 // Read reads rows.
 func Read(text string) ([]api.Filter, int, api.Errno) {
-	var out []api.Filter
-	n, e := notation.ReadLines(text, func(line string) bool {
-		f, ok := readFilter(line)
-		out = append(out, f)
-		return ok
-	})
-	if e == api.OK {
-		e = Check(out)
-	}
-	if e != api.OK {
-		return nil, n, e
-	}
-	return out, 0, api.OK
+	return notation.ReadParts(text, readFilter, Check)
 }

@@ -52,7 +52,7 @@ func isPublic(s string) bool {
 func wordColumn(of func(s *api.Step) *string, right func(word string) bool) column {
 	return column{
 		check: func(s *api.Step) api.Errno {
-			return need(right(*of(s)), api.ErrName)
+			return checks.Need(right(*of(s)), api.ErrName)
 		},
 		zero:  func(s *api.Step) bool { return *of(s) == "" },
 		write: func(s *api.Step) string { return orDash(*of(s)) },
@@ -96,8 +96,7 @@ func tagsColumn() column {
 func numberColumn(of func(s *api.Step) *int) column {
 	return column{
 		check: func(s *api.Step) api.Errno {
-			n := *of(s)
-			return need(0 <= n && n <= maxNumber, api.ErrArg)
+			return checks.Number(*of(s), 0, maxNumber)
 		},
 		zero:  func(s *api.Step) bool { return *of(s) == 0 },
 		write: func(s *api.Step) string { return strconv.Itoa(*of(s)) },

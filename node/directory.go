@@ -60,17 +60,9 @@ func mapOf(l []string) map[string]bool {
 	return out
 }
 
-// need is an error if what must be so is not.
-func need(so bool, e api.Errno) api.Errno {
-	if so {
-		return api.OK
-	}
-	return e
-}
-
 // checkUser is what is wrong with a user who must be one of a directory.
 func checkUser(d api.Directory, user string) api.Errno {
-	return need(slices.Contains(d.Users, user), api.ErrNone)
+	return checks.Need(slices.Contains(d.Users, user), api.ErrNone)
 }
 
 // Owns says whether a user owns a tag.

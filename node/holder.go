@@ -5,12 +5,12 @@ import (
 	"slices"
 
 	"holloway/api"
-	"holloway/notation"
+	"holloway/checks"
 )
 
 // Keys are the public keys that a node had.
 func Keys(d api.Directory, l []api.Step, node string) ([]api.Held, api.Errno) {
-	if e := cmp.Or(checkLog(d, l), need(notation.IsKey(node), api.ErrName)); e != api.OK {
+	if e := cmp.Or(checkLog(d, l), checks.Key(node)); e != api.OK {
 		return nil, e
 	}
 	m := followed(d, l, api.End).machines[node]
@@ -22,7 +22,7 @@ func Keys(d api.Directory, l []api.Step, node string) ([]api.Held, api.Errno) {
 
 // NodeOf is the node that has a public key at a moment.
 func NodeOf(d api.Directory, l []api.Step, public string, at int) (string, bool, api.Errno) {
-	n, e := networkAt(d, l, need(isPublic(public), api.ErrName), at)
+	n, e := networkAt(d, l, checks.Need(isPublic(public), api.ErrName), at)
 	if e != api.OK {
 		return "", false, e
 	}

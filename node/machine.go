@@ -6,7 +6,7 @@ import (
 	"strings"
 
 	"holloway/api"
-	"holloway/notation"
+	"holloway/checks"
 	"holloway/times"
 )
 
@@ -95,7 +95,7 @@ func keysOf(l []*machine) []string {
 
 // networkAt is the network at a moment; ahead is an error that comes ahead of that of the moment.
 func networkAt(d api.Directory, l []api.Step, ahead api.Errno, at int) (*network, api.Errno) {
-	if e := cmp.Or(checkLog(d, l), ahead, need(times.IsMoment(at), api.ErrArg)); e != api.OK {
+	if e := cmp.Or(checkLog(d, l), ahead, checks.Moment(at)); e != api.OK {
 		return nil, e
 	}
 	return followed(d, l, at), api.OK
@@ -116,7 +116,7 @@ func Machines(d api.Directory, l []api.Step, at int) ([]api.Machine, api.Errno) 
 
 // StateOf is a node at a moment.
 func StateOf(d api.Directory, l []api.Step, node string, at int) (api.Machine, bool, api.Errno) {
-	n, e := networkAt(d, l, need(notation.IsKey(node), api.ErrName), at)
+	n, e := networkAt(d, l, checks.Key(node), at)
 	if e != api.OK {
 		return api.Machine{}, false, e
 	}
@@ -158,7 +158,7 @@ func Live(d api.Directory, l []api.Step, at int) ([]string, api.Errno) {
 // Ending are the live nodes that end soon.
 func Ending(d api.Directory, l []api.Step, at, within int) ([]string, api.Errno) {
 	n, e := networkAt(d, l, api.OK, at)
-	if e = cmp.Or(e, need(0 <= within && within <= api.End, api.ErrArg)); e != api.OK {
+	if e = cmp.Or(e, checks.Number(within, 0, api.End)); e != api.OK {
 		return nil, e
 	}
 	ending := n.chosen(func(m *machine) bool { return m.isLive(at) && m.Expires <= at+within })
@@ -168,7 +168,7 @@ func Ending(d api.Directory, l []api.Step, at, within int) ([]string, api.Errno)
 
 // NextChange is the next moment at which there are other live nodes.
 func NextChange(d api.Directory, l []api.Step, at int) (int, bool, api.Errno) {
-	if e := cmp.Or(checkLog(d, l), need(times.IsMoment(at), api.ErrArg)); e != api.OK {
+	if e := cmp.Or(checkLog(d, l), checks.Moment(at)); e != api.OK {
 		return 0, false, e
 	}
 	next := api.End
@@ -189,7 +189,7 @@ func NextChange(d api.Directory, l []api.Step, at int) (int, bool, api.Errno) {
 
 // LiveTime is for how long a node is live.
 func LiveTime(d api.Directory, l []api.Step, node string, w api.Window) (int, api.Errno) {
-	if e := cmp.Or(checkLog(d, l), need(notation.IsKey(node), api.ErrName), need(times.IsWindow(w), api.ErrArg)); e != api.OK {
+	if e := cmp.Or(checkLog(d, l), checks.Key(node), checks.Window(w)); e != api.OK {
 		return 0, e
 	}
 	sum := 0

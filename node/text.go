@@ -26,14 +26,7 @@ func Text(l []api.Step) (string, api.Errno) {
 		return "", e
 	}
 	table := columns()
-	var out strings.Builder
-	for i := range l {
-		out.WriteString(textOf(table, &l[i]) + "\n")
-	}
-	if out.Len() > api.MaxText {
-		return "", api.ErrLarge
-	}
-	return out.String(), api.OK
+	return notation.Lines(l, func(s api.Step) string { return textOf(table, &s) })
 }
 
 // kindOf is the kind of a word, if there is one.
@@ -81,17 +74,5 @@ func readCells(table []column, words []string, s *api.Step) bool {
 // Read reads a log.
 func Read(text string) ([]api.Step, int, api.Errno) {
 	table := columns()
-	var out []api.Step
-	n, e := notation.ReadLines(text, func(line string) bool {
-		s, ok := readStep(table, line)
-		out = append(out, s)
-		return ok
-	})
-	if e == api.OK {
-		e = Check(out)
-	}
-	if e != api.OK {
-		return nil, n, e
-	}
-	return out, 0, api.OK
+	return notation.ReadParts(text, func(line string) (api.Step, bool) { return readStep(table, line) }, Check)
 }

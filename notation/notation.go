@@ -64,6 +64,35 @@ func ReadLines(text string, take func(line string) bool) (int, api.Errno) {
 	return 0, api.OK
 }
 
+// Lines writes a line for each part of a list, if that is not too long for a text.
+func Lines[T any](l []T, line func(x T) string) (string, api.Errno) {
+	var out strings.Builder
+	for _, x := range l {
+		out.WriteString(line(x) + "\n")
+	}
+	if out.Len() > api.MaxText {
+		return "", api.ErrLarge
+	}
+	return out.String(), api.OK
+}
+
+// ReadParts reads a part of a list from each line of a text, and checks the list; the int is the number of a line that has not its form.
+func ReadParts[T any](text string, read func(line string) (T, bool), check func(l []T) api.Errno) ([]T, int, api.Errno) {
+	var out []T
+	n, e := ReadLines(text, func(line string) bool {
+		x, ok := read(line)
+		out = append(out, x)
+		return ok
+	})
+	if e == api.OK {
+		e = check(out)
+	}
+	if e != api.OK {
+		return nil, n, e
+	}
+	return out, 0, api.OK
+}
+
 // List writes the parts of a list with commas between.
 func List[T any](l []T, text func(x T) string) string {
 	var parts []string

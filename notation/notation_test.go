@@ -95,6 +95,55 @@ func TestReadLines(t *testing.T) {
 	}
 }
 
+// P1.4, P2.7, P4.4, P5.9, Z9, Z10
+func TestLines(t *testing.T) {
+	for _, c := range []struct {
+		l    []int
+		text string
+	}{{nil, ""}, {[]int{7}, "7\n"}, {[]int{7, 0, 12}, "7\n0\n12\n"}} {
+		if s, e := Lines(c.l, strconv.Itoa); s != c.text || e != api.OK {
+			t.Errorf("%v: %q, %v", c.l, s, e)
+		}
+	}
+	half := strings.Repeat("a", api.MaxText/2-1)
+	same := func(s string) string { return s }
+	if s, e := Lines([]string{half, half}, same); s != half+"\n"+half+"\n" || e != api.OK {
+		t.Errorf("full: %d, %v", len(s), e)
+	}
+	if s, e := Lines([]string{half, half, ""}, same); s != "" || e != api.ErrLarge {
+		t.Errorf("too long: %d, %v", len(s), e)
+	}
+}
+
+// P1.4, P2.7, P4.4, P5.9, Z3, Z9, Z10
+func TestReadParts(t *testing.T) {
+	read := func(line string) (int, bool) { return Number(line, 2) }
+	check := func(l []int) api.Errno {
+		if len(l) > 3 {
+			return api.ErrFull
+		}
+		return api.OK
+	}
+	for _, c := range []struct {
+		text string
+		l    []int
+		n    int
+		e    api.Errno
+	}{
+		{"", nil, 0, api.OK},
+		{"7\n0\n12\n", []int{7, 0, 12}, 0, api.OK},
+		{"7\n0\n012\n", nil, 2, api.ErrSyntax},
+		{"7\n0", nil, 1, api.ErrSyntax},
+		{"7\n7\n7\n7\n", nil, 0, api.ErrFull},
+		{"7\n7\n7\n7\nx\n", nil, 4, api.ErrSyntax},
+		{strings.Repeat("x", api.MaxText+1), nil, 0, api.ErrLarge},
+	} {
+		if l, n, e := ReadParts(c.text, read, check); !slices.Equal(l, c.l) || n != c.n || e != c.e {
+			t.Errorf("%.20q: %v, %d, %v", c.text, l, n, e)
+		}
+	}
+}
+
 // P3.6, P4.4, Z10
 func TestList(t *testing.T) {
 	number := func(s string) (int, bool) { return Number(s, 2) }

@@ -31,6 +31,11 @@ func Compare(a, b api.Addr) int {
 	return cmp.Or(cmp.Compare(a.Hi, b.Hi), cmp.Compare(a.Lo, b.Lo))
 }
 
+// ComparePrefixes orders prefixes by their addresses, then by their bits.
+func ComparePrefixes(p, q api.Prefix) int {
+	return cmp.Or(Compare(p.Addr, q.Addr), cmp.Compare(p.Bits, q.Bits))
+}
+
 // ones is the number whose lowest n bits are 1, of 128 bits.
 func ones(n int) (hi, lo uint64) {
 	if n > 64 {

@@ -45,6 +45,16 @@ func TestNeighbours(t *testing.T) {
 	}
 }
 
+// P1.5, P5.1
+func TestComparePrefixes(t *testing.T) {
+	rising := []api.Prefix{{}, {Bits: 8}, {Addr: api.Addr{Lo: 1}, Bits: 32}, {Addr: api.Addr{Lo: 2}, Bits: 31}, {Addr: api.Addr{Six: true}}, {Addr: api.Addr{Six: true}, Bits: 1}, {Addr: api.Addr{Six: true, Hi: 1}, Bits: 64}}
+	for i, p := range rising {
+		for k, q := range rising {
+			is(t, "ComparePrefixes", ComparePrefixes(p, q), Compare(api.Addr{Lo: uint64(i)}, api.Addr{Lo: uint64(k)}))
+		}
+	}
+}
+
 // P1.3
 func TestJoin(t *testing.T) {
 	six := api.Range{First: api.Addr{Six: true}, Last: top6}
