@@ -4,6 +4,7 @@ package checks
 import (
 	"cmp"
 	"slices"
+	"strings"
 
 	"holloway/addr"
 	"holloway/api"
@@ -32,8 +33,24 @@ func Moment(at int) api.Errno { return Need(times.IsMoment(at), api.ErrArg) }
 // Window is what is wrong with a window of moments.
 func Window(w api.Window) api.Errno { return Need(times.IsWindow(w), api.ErrArg) }
 
-// Rising is what is wrong with a list of at most so many parts, of which each one is right and comes behind the one before.
-func Rising[T any](l []T, most int, check func(x T) api.Errno, compare func(x, y T) int) api.Errno {
+// Onward is what is wrong with the moment of a call that must not be ahead of another moment.
+func Onward(at, now int) api.Errno { return cmp.Or(Moment(at), Need(at >= now, api.ErrOrder)) }
+
+// Each is what is wrong with a list of at most so many parts, of which each one is right.
+func Each[T any](l []T, most int, check func(x T) api.Errno) api.Errno {
+	if len(l) > most {
+		return api.ErrLarge
+	}
+	for _, x := range l {
+		if e := check(x); e != api.OK {
+			return e
+		}
+	}
+	return api.OK
+}
+
+// Rising is what is wrong with a list of at most so many parts, of which each one is right, and comes behind the one before; what rest says is asked behind that.
+func Rising[T any](l []T, most int, check func(x T) api.Errno, compare func(x, y T) int, rest ...func(x T) api.Errno) api.Errno {
 	if len(l) > most {
 		return api.ErrLarge
 	}
@@ -44,22 +61,17 @@ func Rising[T any](l []T, most int, check func(x T) api.Errno, compare func(x, y
 		if i > 0 && compare(x, l[i-1]) <= 0 {
 			return api.ErrOrder
 		}
+		for _, check := range rest {
+			if e := check(x); e != api.OK {
+				return e
+			}
+		}
 	}
 	return api.OK
 }
 
 // Keys is what is wrong with a list of keys, which rise.
-func Keys(l []string) api.Errno {
-	for i, s := range l {
-		if !notation.IsKey(s) {
-			return api.ErrName
-		}
-		if i > 0 && s <= l[i-1] {
-			return api.ErrOrder
-		}
-	}
-	return api.OK
-}
+func Keys(l []string) api.Errno { return Rising(l, len(l), Key, strings.Compare) }
 
 // Addrs is what is wrong with the addresses of a node; it notes in taken which ones there are, and the error of one that is there already is again.
 func Addrs(l []api.Addr, taken map[api.Addr]bool, again api.Errno) api.Errno {

@@ -28,6 +28,11 @@ func TestSmallOnes(t *testing.T) {
 	}
 	is(t, "Moment", Moment(api.End-1), api.OK)
 	is(t, "no moment", Moment(api.End), api.ErrArg)
+	is(t, "Onward", Onward(api.End-1, api.End-1), api.OK)
+	is(t, "the first moment", Onward(0, 0), api.OK)
+	is(t, "a moment that was", Onward(6, 7), api.ErrOrder)
+	is(t, "no moment that was", Onward(-1, 7), api.ErrArg)
+	is(t, "no moment that comes", Onward(api.End, 7), api.ErrArg)
 	is(t, "Window", Window(api.Window{From: 0, To: api.End}), api.OK)
 	is(t, "no window", Window(api.Window{From: 1, To: 0}), api.ErrArg)
 }
@@ -54,6 +59,51 @@ func TestRising(t *testing.T) {
 		{[]int{0, 10, 20, 30}, api.ErrLarge},
 	} {
 		is(t, "Rising", Rising(c.l, 3, check, compare), c.e)
+	}
+}
+
+// P2.1, P3.1, P6.6, Z4: what is asked behind the order of a part comes ahead of all that is wrong with the next one.
+func TestRisingAndMore(t *testing.T) {
+	check := func(n int) api.Errno { return Need(n >= 0, api.ErrForm) }
+	compare := func(x, y int) int { return x/10 - y/10 }
+	even := func(n int) api.Errno { return Need(n%2 == 0, api.ErrType) }
+	small := func(n int) api.Errno { return Need(n%10 < 5, api.ErrRule) }
+	for _, c := range []struct {
+		l []int
+		e api.Errno
+	}{
+		{nil, api.OK},
+		{[]int{0, 12, 24}, api.OK},
+		{[]int{1}, api.ErrType},
+		{[]int{6}, api.ErrRule},
+		{[]int{7}, api.ErrType},
+		{[]int{7, 0}, api.ErrType},
+		{[]int{6, -1}, api.ErrRule},
+		{[]int{10, 7}, api.ErrOrder},
+		{[]int{10, -1}, api.ErrForm},
+		{[]int{0, 10, 26}, api.ErrRule},
+		{[]int{1, 1, 1, 1}, api.ErrLarge},
+	} {
+		is(t, "Rising", Rising(c.l, 3, check, compare, even, small), c.e)
+	}
+}
+
+// P3.1, P4.1, P6.6, P6.9, Z4
+func TestEach(t *testing.T) {
+	same := func(e api.Errno) api.Errno { return e }
+	for _, c := range []struct {
+		l []api.Errno
+		e api.Errno
+	}{
+		{nil, api.OK},
+		{[]api.Errno{api.OK, api.OK, api.OK}, api.OK},
+		{[]api.Errno{api.ErrForm}, api.ErrForm},
+		{[]api.Errno{api.OK, api.OK, api.ErrForm}, api.ErrForm},
+		{[]api.Errno{api.OK, api.ErrName, api.ErrForm}, api.ErrName},
+		{[]api.Errno{api.OK, api.OK, api.OK, api.OK}, api.ErrLarge},
+		{[]api.Errno{api.ErrForm, api.OK, api.OK, api.OK}, api.ErrLarge},
+	} {
+		is(t, "Each", Each(c.l, 3, same), c.e)
 	}
 }
 

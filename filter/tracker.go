@@ -5,7 +5,7 @@ import (
 	"slices"
 
 	"holloway/api"
-	"holloway/times"
+	"holloway/checks"
 )
 
 // Tracker tracks flows.
@@ -44,17 +44,6 @@ func (t *Tracker) Set(l []api.Filter) api.Errno {
 		return e
 	}
 	t.rows = rowsOf(l)
-	return api.OK
-}
-
-// checkMoment is what is wrong with the moment of a call.
-func (t *Tracker) checkMoment(at int) api.Errno {
-	if !times.IsMoment(at) {
-		return api.ErrArg
-	}
-	if at < t.now {
-		return api.ErrOrder
-	}
 	return api.OK
 }
 
@@ -107,7 +96,7 @@ func (t *Tracker) track(f api.Flow, ends bool) {
 
 // pass says whether a packet passes: it is of a flow that is tracked, or of one that may begin.
 func (t *Tracker) pass(p api.Packet, at int, begins func(f api.Flow) bool) (bool, api.Errno) {
-	if e := cmp.Or(CheckPacket(p), t.checkMoment(at)); e != api.OK {
+	if e := cmp.Or(CheckPacket(p), checks.Onward(at, t.now)); e != api.OK {
 		return false, e
 	}
 	t.now = at
@@ -138,7 +127,7 @@ func (t *Tracker) Out(p api.Packet, at int) api.Errno {
 
 // Flows are the tracked flows that have not ended.
 func (t *Tracker) Flows(at int) ([]api.Tracked, api.Errno) {
-	if e := t.checkMoment(at); e != api.OK {
+	if e := checks.Onward(at, t.now); e != api.OK {
 		return nil, e
 	}
 	out := t.lasting(slices.Clone(t.flows), at)

@@ -5,6 +5,7 @@ import (
 	"slices"
 
 	"holloway/api"
+	"holloway/wire"
 )
 
 // What stands at fixed places of the bytes of packets.
@@ -47,42 +48,6 @@ func layoutOf(proto int) layout {
 	return layout{8, 2, writeIcmp, readIcmp}
 }
 
-// number appends a number of so many bytes, the highest one first.
-func number(b []byte, size int, n uint64) []byte {
-	for i := size - 1; i >= 0; i-- {
-		b = append(b, byte(n>>(8*i)))
-	}
-	return b
-}
-
-// numberOf is the number of at most eight bytes.
-func numberOf(b []byte) uint64 {
-	n := uint64(0)
-	for _, x := range b {
-		n = n<<8 | uint64(x)
-	}
-	return n
-}
-
-// intOf is the number of at most four bytes.
-func intOf(b []byte) int { return int(numberOf(b)) }
-
-// addrBytes appends an address.
-func addrBytes(b []byte, a api.Addr) []byte {
-	if !a.Six {
-		return number(b, 4, a.Lo)
-	}
-	return number(number(b, 8, a.Hi), 8, a.Lo)
-}
-
-// addrOf is the address of 4 or 16 bytes.
-func addrOf(b []byte) api.Addr {
-	if len(b) == 4 {
-		return api.Addr{Lo: numberOf(b)}
-	}
-	return api.Addr{Six: true, Hi: numberOf(b[:8]), Lo: numberOf(b[8:])}
-}
-
 // protoNumber is the number by which a protocol is told beside addresses.
 func protoNumber(proto int, six bool) int {
 	if six && proto == api.ProtoIcmp {
@@ -102,7 +67,7 @@ func protoOf(n byte, six bool) (int, bool) {
 }
 
 // putSum writes a sum to its place.
-func putSum(b []byte, at, sum int) { copy(b[at:], number(nil, 2, uint64(sum))) }
+func putSum(b []byte, at, sum int) { copy(b[at:], wire.Number(nil, 2, uint64(sum))) }
 
 // withoutSum is a copy of some bytes, with 0 in the place of their sum.
 func withoutSum(b []byte, at int) []byte {
@@ -127,27 +92,27 @@ func flags(p *api.Packet) int {
 }
 
 func portBytes(p *api.Packet) []byte {
-	return number(number(nil, 2, uint64(p.FromPort)), 2, uint64(p.ToPort))
+	return wire.Number(wire.Number(nil, 2, uint64(p.FromPort)), 2, uint64(p.ToPort))
 }
 
-func readPorts(b []byte, p *api.Packet) { p.FromPort, p.ToPort = intOf(b[:2]), intOf(b[2:4]) }
+func readPorts(b []byte, p *api.Packet) { p.FromPort, p.ToPort = wire.IntOf(b[:2]), wire.IntOf(b[2:4]) }
 
 func writeTcp(p *api.Packet, _ int) []byte {
-	b := number(number(portBytes(p), 4, uint64(p.Seq)), 4, uint64(p.Ack))
+	b := wire.Number(wire.Number(portBytes(p), 4, uint64(p.Seq)), 4, uint64(p.Ack))
 	b = append(b, tcpLength, byte(flags(p)))
-	b = number(b, 2, tcpWindow)
+	b = wire.Number(b, 2, tcpWindow)
 	return append(b, 0, 0, 0, 0)
 }
 
 func readTcp(b []byte, p *api.Packet) {
 	readPorts(b, p)
-	p.Seq, p.Ack = intOf(b[4:8]), intOf(b[8:12])
+	p.Seq, p.Ack = wire.IntOf(b[4:8]), wire.IntOf(b[8:12])
 	has := func(bit byte) bool { return b[13]&bit != 0 }
 	p.Fin, p.Syn, p.Rst, p.Has = has(tcpFin), has(tcpSyn), has(tcpRst), has(tcpHas)
 }
 
 func writeUdp(p *api.Packet, length int) []byte {
-	return append(number(portBytes(p), 2, uint64(length)), 0, 0)
+	return append(wire.Number(portBytes(p), 2, uint64(length)), 0, 0)
 }
 
 func readUdp(b []byte, p *api.Packet) { readPorts(b, p) }
@@ -167,25 +132,25 @@ func icmpKind(six, reply bool) byte {
 
 func writeIcmp(p *api.Packet, _ int) []byte {
 	b := []byte{icmpKind(p.From.Six, p.Reply), 0, 0, 0}
-	return number(number(b, 2, uint64(p.Id)), 2, uint64(p.Seq))
+	return wire.Number(wire.Number(b, 2, uint64(p.Id)), 2, uint64(p.Seq))
 }
 
 func readIcmp(b []byte, p *api.Packet) {
 	p.Reply = b[0] == icmpKind(p.From.Six, true)
-	p.Id, p.Seq = intOf(b[4:6]), intOf(b[6:8])
+	p.Id, p.Seq = wire.IntOf(b[4:6]), wire.IntOf(b[6:8])
 }
 
 // ahead are the bytes that are summed ahead of a part of so many bytes.
 func ahead(p *api.Packet, length int) []byte {
 	n := uint64(protoNumber(p.Proto, p.From.Six))
-	b := addrBytes(addrBytes(nil, p.From), p.To)
+	b := wire.Addr(wire.Addr(nil, p.From), p.To)
 	switch {
 	case p.From.Six:
-		return number(number(b, 4, uint64(length)), 4, n)
+		return wire.Number(wire.Number(b, 4, uint64(length)), 4, n)
 	case p.Proto == api.ProtoIcmp:
 		return nil
 	}
-	return number(number(b, 2, n), 2, uint64(length))
+	return wire.Number(wire.Number(b, 2, n), 2, uint64(length))
 }
 
 // sumOf is the sum of the part of a packet, which has 0 in its place.
@@ -209,12 +174,12 @@ func partOf(p *api.Packet) []byte {
 func headOf(p *api.Packet, length int) []byte {
 	proto := byte(protoNumber(p.Proto, p.From.Six))
 	if p.From.Six {
-		b := number([]byte{markSix, 0, 0, 0}, 2, uint64(length))
-		return addrBytes(addrBytes(append(b, proto, byte(p.Hops)), p.From), p.To)
+		b := wire.Number([]byte{markSix, 0, 0, 0}, 2, uint64(length))
+		return wire.Addr(wire.Addr(append(b, proto, byte(p.Hops)), p.From), p.To)
 	}
-	b := number([]byte{markFour, 0}, 2, uint64(sizeFour+length))
+	b := wire.Number([]byte{markFour, 0}, 2, uint64(sizeFour+length))
 	b = append(b, 0, 0, 0, 0, byte(p.Hops), proto, 0, 0)
-	b = addrBytes(addrBytes(b, p.From), p.To)
+	b = wire.Addr(wire.Addr(b, p.From), p.To)
 	putSum(b, sumFour, Sum(b))
 	return b
 }
@@ -258,22 +223,22 @@ func isZero(b []byte) bool { return !slices.ContainsFunc(b, func(x byte) bool { 
 // readFour reads the bytes ahead of a part, with addresses that are not Six.
 func readFour(b []byte, p *api.Packet) api.Errno {
 	head := b[:sizeFour]
-	if Sum(withoutSum(head, sumFour)) != intOf(head[sumFour:sumFour+2]) {
+	if Sum(withoutSum(head, sumFour)) != wire.IntOf(head[sumFour:sumFour+2]) {
 		return api.ErrSum
 	}
-	if intOf(b[2:4]) != len(b) || b[1] != 0 || !isZero(b[4:8]) {
+	if wire.IntOf(b[2:4]) != len(b) || b[1] != 0 || !isZero(b[4:8]) {
 		return api.ErrForm
 	}
-	p.From, p.To = addrOf(b[12:16]), addrOf(b[16:20])
+	p.From, p.To = wire.AddrOf(b[12:16]), wire.AddrOf(b[16:20])
 	return readCarried(b[9], b[8], p)
 }
 
 // readSix reads the bytes ahead of a part, with addresses that are Six.
 func readSix(b []byte, p *api.Packet) api.Errno {
-	if len(b) < sizeSix || intOf(b[4:6]) != len(b)-sizeSix || !isZero(b[1:4]) {
+	if len(b) < sizeSix || wire.IntOf(b[4:6]) != len(b)-sizeSix || !isZero(b[1:4]) {
 		return api.ErrForm
 	}
-	p.From, p.To = addrOf(b[8:24]), addrOf(b[24:40])
+	p.From, p.To = wire.AddrOf(b[8:24]), wire.AddrOf(b[24:40])
 	return readCarried(b[6], b[7], p)
 }
 
@@ -301,7 +266,7 @@ func readPart(part []byte, p *api.Packet) api.Errno {
 	if len(part)-x.size > api.MaxPayload {
 		return api.ErrLarge
 	}
-	if sumOf(p, withoutSum(part, x.sumAt)) != intOf(part[x.sumAt:x.sumAt+2]) {
+	if sumOf(p, withoutSum(part, x.sumAt)) != wire.IntOf(part[x.sumAt:x.sumAt+2]) {
 		return api.ErrSum
 	}
 	p.Payload = slices.Clone(part[x.size:])

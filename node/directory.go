@@ -4,10 +4,10 @@ package node
 import (
 	"cmp"
 	"slices"
+	"strings"
 
 	"holloway/api"
 	"holloway/checks"
-	"holloway/notation"
 )
 
 // CheckDirectory validates a directory.
@@ -29,26 +29,12 @@ func CheckDirectory(d api.Directory) api.Errno {
 
 // checkOwners validates the owners of tags.
 func checkOwners(l []api.Owner, users map[string]bool) api.Errno {
-	if len(l) > api.MaxOwned {
-		return api.ErrLarge
-	}
-	for i, o := range l {
-		if !notation.IsKey(o.Tag) {
-			return api.ErrName
-		}
-		if i > 0 && o.Tag <= l[i-1].Tag {
-			return api.ErrOrder
-		}
-		for k, user := range o.Users {
-			if !users[user] {
-				return api.ErrNone
-			}
-			if k > 0 && user <= o.Users[k-1] {
-				return api.ErrOrder
-			}
-		}
-	}
-	return api.OK
+	key := func(o api.Owner) api.Errno { return checks.Key(o.Tag) }
+	byTag := func(x, y api.Owner) int { return strings.Compare(x.Tag, y.Tag) }
+	known := func(user string) api.Errno { return checks.Need(users[user], api.ErrNone) }
+	return checks.Rising(l, api.MaxOwned, key, byTag, func(o api.Owner) api.Errno {
+		return checks.Rising(o.Users, len(o.Users), known, strings.Compare)
+	})
 }
 
 // mapOf has the strings of a list.

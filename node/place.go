@@ -3,30 +3,20 @@ package node
 import (
 	"cmp"
 	"slices"
+	"strings"
 
 	"holloway/api"
 	"holloway/checks"
-	"holloway/notation"
 )
 
 // checkPlaces validates places.
 func checkPlaces(l []api.Place) api.Errno {
-	if len(l) > api.MaxNodes {
-		return api.ErrLarge
-	}
+	key := func(p api.Place) api.Errno { return checks.Key(p.Node) }
+	byNode := func(x, y api.Place) int { return strings.Compare(x.Node, y.Node) }
 	taken := map[api.Addr]bool{}
-	for i, p := range l {
-		if !notation.IsKey(p.Node) {
-			return api.ErrName
-		}
-		if i > 0 && p.Node <= l[i-1].Node {
-			return api.ErrOrder
-		}
-		if e := cmp.Or(checks.Addrs(p.Addrs, taken, api.ErrConflict), checks.Routes(p.Routes)); e != api.OK {
-			return e
-		}
-	}
-	return api.OK
+	return checks.Rising(l, api.MaxNodes, key, byNode, func(p api.Place) api.Errno {
+		return cmp.Or(checks.Addrs(p.Addrs, taken, api.ErrConflict), checks.Routes(p.Routes))
+	})
 }
 
 // Nodes are the live nodes at a moment, with their places.

@@ -3,26 +3,39 @@ package notation
 
 import (
 	"strings"
+	"unicode/utf8"
 
 	"holloway/api"
 )
 
 // IsKey says whether a string is a key.
 func IsKey(s string) bool {
-	if s == "" || len(s) > api.MaxName || !isSmall(s[0]) {
+	if s == "" || len(s) > api.MaxName || !IsSmall(s[0]) {
 		return false
 	}
 	for i := range len(s) {
-		if !isSmall(s[i]) && !isDigit(s[i]) && s[i] != '-' && s[i] != '_' {
+		if !IsSmall(s[i]) && !IsDigit(s[i]) && s[i] != '-' && s[i] != '_' {
 			return false
 		}
 	}
 	return true
 }
 
-func isSmall(b byte) bool { return 'a' <= b && b <= 'z' }
+// IsSmall says whether a byte is a small letter.
+func IsSmall(b byte) bool { return 'a' <= b && b <= 'z' }
 
-func isDigit(b byte) bool { return '0' <= b && b <= '9' }
+// IsDigit says whether a byte is a decimal digit.
+func IsDigit(b byte) bool { return '0' <= b && b <= '9' }
+
+// IsPlain says whether a string is plain.
+func IsPlain(s string) bool {
+	for i := range len(s) {
+		if s[i] < ' ' || s[i] == 127 {
+			return false
+		}
+	}
+	return utf8.ValidString(s) && strings.Trim(s, " ") == s && !strings.Contains(s, "  ")
+}
 
 // Number reads a number that is not below 0 and has at most so many digits (18 at the most, so that no sum overflows).
 func Number(s string, digits int) (int, bool) {
@@ -31,7 +44,7 @@ func Number(s string, digits int) (int, bool) {
 	}
 	n := 0
 	for i := range len(s) {
-		if !isDigit(s[i]) {
+		if !IsDigit(s[i]) {
 			return 0, false
 		}
 		n = n*10 + int(s[i]-'0')

@@ -24,6 +24,32 @@ func TestIsKey(t *testing.T) {
 	}
 }
 
+// Z10, Z11, P6.1
+func TestBytes(t *testing.T) {
+	for b := range 256 {
+		if got := IsSmall(byte(b)); got != strings.Contains("abcdefghijklmnopqrstuvwxyz", string([]byte{byte(b)})) {
+			t.Errorf("IsSmall of %d: %v", b, got)
+		}
+		if got := IsDigit(byte(b)); got != strings.Contains("0123456789", string([]byte{byte(b)})) {
+			t.Errorf("IsDigit of %d: %v", b, got)
+		}
+	}
+}
+
+// Z11
+func TestIsPlain(t *testing.T) {
+	for _, s := range []string{"", "a", "a b", "a b c", "~!", "é", "\u0080", "a\u00a0\u00a0b", "\u3000", "\U0010ffff", strings.Repeat("a ", 9) + "a"} {
+		if !IsPlain(s) {
+			t.Errorf("%q is plain", s)
+		}
+	}
+	for _, s := range []string{" ", " a", "a ", "a  b", "a b  c", "\n", "a\nb", "\t", "\x00", "\x1f", "a\x1f", "\x7f", "a\x7f", "\xff", "a\xc3", "\xed\xa0\x80", "\xc0\x80", "\xf4\x90\x80\x80"} {
+		if IsPlain(s) {
+			t.Errorf("%q is not plain", s)
+		}
+	}
+}
+
 // Z10
 func TestNumber(t *testing.T) {
 	for _, c := range []struct {

@@ -64,11 +64,6 @@ func New(n api.Nat) (*Translator, api.Errno) {
 	return &Translator{nat: n, next: n.First, byEnds: map[ends]*entry{}, byPort: map[int]*entry{}}, api.OK
 }
 
-// checkMoment is what is wrong with the moment of a call.
-func (t *Translator) checkMoment(at int) api.Errno {
-	return cmp.Or(checks.Moment(at), checks.Need(at >= t.now, api.ErrOrder))
-}
-
 // lasts says whether an entry lasts at a moment.
 func (t *Translator) lasts(x *entry, at int) bool { return at-x.last < t.nat.Timeout }
 
@@ -119,7 +114,7 @@ func (t *Translator) open(of ends) *entry {
 
 // Out is a packet that goes out.
 func (t *Translator) Out(at int, from, to api.Spot) (api.Spot, api.Errno) {
-	if e := cmp.Or(t.checkMoment(at), checkSpot(from), checkSpot(to)); e != api.OK {
+	if e := cmp.Or(checks.Onward(at, t.now), checkSpot(from), checkSpot(to)); e != api.OK {
 		return api.Spot{}, e
 	}
 	of := ends{inner: from, other: seen(t.nat.Maps, to)}
@@ -140,7 +135,7 @@ func (t *Translator) Out(at int, from, to api.Spot) (api.Spot, api.Errno) {
 
 // In is a packet that comes to an outer port.
 func (t *Translator) In(at int, from api.Spot, port int) (api.Spot, bool, api.Errno) {
-	if e := cmp.Or(t.checkMoment(at), checkSpot(from), checkPort(port)); e != api.OK {
+	if e := cmp.Or(checks.Onward(at, t.now), checkSpot(from), checkPort(port)); e != api.OK {
 		return api.Spot{}, false, e
 	}
 	t.advance(at)
@@ -154,7 +149,7 @@ func (t *Translator) In(at int, from api.Spot, port int) (api.Spot, bool, api.Er
 
 // Entries is how many entries last.
 func (t *Translator) Entries(at int) (int, api.Errno) {
-	if e := t.checkMoment(at); e != api.OK {
+	if e := checks.Onward(at, t.now); e != api.OK {
 		return 0, e
 	}
 	t.advance(at)

@@ -6,6 +6,7 @@ import (
 	"strings"
 
 	"holloway/api"
+	"holloway/checks"
 	"holloway/notation"
 )
 
@@ -68,19 +69,11 @@ func Users(p api.Policy, group string) ([]string, api.Errno) {
 
 // checkGroups validates groups.
 func checkGroups(l []api.Group) api.Errno {
-	if len(l) > api.MaxGroups {
-		return api.ErrLarge
-	}
-	for i, g := range l {
-		if !notation.IsKey(g.Name) {
-			return api.ErrName
-		}
-		if i > 0 && g.Name <= l[i-1].Name {
-			return api.ErrOrder
-		}
-		if e := checkMembers(g.Members); e != api.OK {
-			return e
-		}
+	key := func(g api.Group) api.Errno { return checks.Key(g.Name) }
+	byName := func(x, y api.Group) int { return strings.Compare(x.Name, y.Name) }
+	e := checks.Rising(l, api.MaxGroups, key, byName, func(g api.Group) api.Errno { return checkMembers(g.Members) })
+	if e != api.OK {
+		return e
 	}
 	return checkInner(l)
 }

@@ -11,22 +11,12 @@ import (
 
 // CheckNodes validates nodes.
 func CheckNodes(l []api.Node) api.Errno {
-	if len(l) > api.MaxNodes {
-		return api.ErrLarge
-	}
+	keys := func(n api.Node) api.Errno { return cmp.Or(checks.Key(n.Key), checks.Key(n.Name)) }
+	byKey := func(x, y api.Node) int { return strings.Compare(x.Key, y.Key) }
 	taken := map[api.Addr]bool{}
-	for i, n := range l {
-		if !notation.IsKey(n.Key) || !notation.IsKey(n.Name) {
-			return api.ErrName
-		}
-		if i > 0 && n.Key <= l[i-1].Key {
-			return api.ErrOrder
-		}
-		if e := cmp.Or(checkHolder(n), checks.Addrs(n.Addrs, taken, api.ErrTwice), checks.Routes(n.Routes)); e != api.OK {
-			return e
-		}
-	}
-	return api.OK
+	return checks.Rising(l, api.MaxNodes, keys, byKey, func(n api.Node) api.Errno {
+		return cmp.Or(checkHolder(n), checks.Addrs(n.Addrs, taken, api.ErrTwice), checks.Routes(n.Routes))
+	})
 }
 
 // checkHolder is what is wrong with the user of a node, or with its tags.

@@ -2,11 +2,11 @@ package rule
 
 import (
 	"slices"
+	"strings"
 
 	"holloway/addr"
 	"holloway/api"
 	"holloway/checks"
-	"holloway/notation"
 	"holloway/ports"
 )
 
@@ -26,35 +26,15 @@ func CheckPolicy(p api.Policy) api.Errno {
 
 // checkHosts validates hosts.
 func checkHosts(l []api.Host) api.Errno {
-	if len(l) > api.MaxHosts {
-		return api.ErrLarge
-	}
-	for i, h := range l {
-		if !notation.IsKey(h.Name) {
-			return api.ErrName
-		}
-		if i > 0 && h.Name <= l[i-1].Name {
-			return api.ErrOrder
-		}
-		if e := addr.CheckPrefix(h.Net); e != api.OK {
-			return e
-		}
-	}
-	return api.OK
+	key := func(h api.Host) api.Errno { return checks.Key(h.Name) }
+	byName := func(x, y api.Host) int { return strings.Compare(x.Name, y.Name) }
+	return checks.Rising(l, api.MaxHosts, key, byName, func(h api.Host) api.Errno { return addr.CheckPrefix(h.Net) })
 }
 
 // checkGrants validates the grants of a policy whose groups and hosts are right.
 func checkGrants(p api.Policy) api.Errno {
-	if len(p.Grants) > api.MaxRules {
-		return api.ErrLarge
-	}
 	known := defined(p)
-	for _, g := range p.Grants {
-		if e := checkGrant(g, known); e != api.OK {
-			return e
-		}
-	}
-	return api.OK
+	return checks.Each(p.Grants, api.MaxRules, func(g api.Grant) api.Errno { return checkGrant(g, known) })
 }
 
 // checkGrant is what is wrong with a grant; of groups and hosts there are those that are known.
@@ -107,13 +87,5 @@ func checkEnds(g api.Grant, known map[api.What]bool) api.Errno {
 
 // checkTests validates tests.
 func checkTests(l []api.Test) api.Errno {
-	if len(l) > api.MaxTests {
-		return api.ErrLarge
-	}
-	for _, t := range l {
-		if e := checks.Flow(t.Flow); e != api.OK {
-			return e
-		}
-	}
-	return api.OK
+	return checks.Each(l, api.MaxTests, func(t api.Test) api.Errno { return checks.Flow(t.Flow) })
 }
