@@ -138,6 +138,11 @@ func TestRoutes(t *testing.T) {
 	is(t, "again", Routes([]api.Prefix{net(0, 8), net(0, 9), net(0, 8), net(1, 8)}), api.ErrTwice)
 	is(t, "no prefix", Routes([]api.Prefix{net(1, 8), net(0, 8), net(0, 8)}), api.ErrForm)
 	is(t, "bits", Routes([]api.Prefix{net(0, 33)}), api.ErrArg)
+	full := make([]api.Prefix, api.MaxRoutes)
+	for i := range full {
+		full[i] = net(0, i)
+	}
+	is(t, "full", Routes(full), api.OK)
 	is(t, "too many", Routes(make([]api.Prefix, api.MaxRoutes+1)), api.ErrLarge)
 }
 

@@ -18,10 +18,11 @@ const (
 // A writing says how numbers stand as labels: of so many bits each, the last ones first, with digits to a base.
 type writing struct{ bits, base int }
 
-var (
-	inBytes  = writing{bits: 8, base: 10}
-	inDigits = writing{bits: 4, base: 16}
-)
+// inBytes is the writing of addresses of 32 bits.
+func inBytes() writing { return writing{bits: 8, base: 10} }
+
+// inDigits is that of addresses of 128 bits.
+func inDigits() writing { return writing{bits: 4, base: 16} }
 
 // labels are so many labels of a number.
 func (w writing) labels(n uint64, count int) []string {
@@ -46,9 +47,9 @@ func (w writing) number(labels []string) uint64 {
 // backOf is Back of an address that is right.
 func backOf(a api.Addr) string {
 	if !a.Six {
-		return strings.Join(inBytes.labels(a.Lo, 4), ".") + endFour
+		return strings.Join(inBytes().labels(a.Lo, 4), ".") + endFour
 	}
-	digits := slices.Concat(inDigits.labels(a.Lo, 16), inDigits.labels(a.Hi, 16))
+	digits := slices.Concat(inDigits().labels(a.Lo, 16), inDigits().labels(a.Hi, 16))
 	return strings.Join(digits, ".") + endSix
 }
 
@@ -65,9 +66,9 @@ func guess(name string) api.Addr {
 	if rest, six := strings.CutSuffix(name, endSix); six {
 		labels := strings.Split(rest, ".")
 		half := min(len(labels), 16)
-		return api.Addr{Six: true, Hi: inDigits.number(labels[half:]), Lo: inDigits.number(labels[:half])}
+		return api.Addr{Six: true, Hi: inDigits().number(labels[half:]), Lo: inDigits().number(labels[:half])}
 	}
-	return api.Addr{Lo: inBytes.number(strings.Split(strings.TrimSuffix(name, endFour), "."))}
+	return api.Addr{Lo: inBytes().number(strings.Split(strings.TrimSuffix(name, endFour), "."))}
 }
 
 // BackTo is the address of such a name.

@@ -144,9 +144,7 @@ func (r *reader) name() string {
 		to := (n-reference)<<8 + r.number(1)
 		r.need(to < begin)
 		behind = cmp.Or(behind, r.at)
-		if !r.broken {
-			begin, r.at = to, to
-		}
+		begin, r.at = to, to
 	}
 	r.at = cmp.Or(behind, r.at)
 	return strings.TrimSuffix(string(out), ".")

@@ -65,13 +65,9 @@ func TestMessages(t *testing.T) {
 func TestEncodeErrors(t *testing.T) {
 	check := func(m api.Message) api.Errno { _, e := name.Encode(m); return e }
 	ladder(t, "Encode", api.Message{Id: -1, Code: 16, Asked: make([]api.Question, api.MaxAsked+1), Got: make([]api.Record, api.MaxGot+1)}, check,
-		step[api.Message]{api.ErrArg, func(m *api.Message) { m.Id = 1 << 16 }},
-		step[api.Message]{api.ErrArg, func(m *api.Message) { m.Id = math.MinInt }},
-		step[api.Message]{api.ErrArg, func(m *api.Message) { m.Id = math.MaxInt }},
 		step[api.Message]{api.ErrArg, func(m *api.Message) { m.Id = 1<<16 - 1 }},
-		step[api.Message]{api.ErrArg, func(m *api.Message) { m.Code = -1 }},
-		step[api.Message]{api.ErrArg, func(m *api.Message) { m.Code = math.MaxInt }},
-		step[api.Message]{api.ErrArg, func(m *api.Message) { m.Code = 15 }},
+		step[api.Message]{api.ErrArg, func(m *api.Message) { m.Id, m.Code = -1, 15 }},
+		step[api.Message]{api.ErrArg, func(m *api.Message) { m.Id = 1<<16 - 1 }},
 		step[api.Message]{api.ErrLarge, func(m *api.Message) { m.Asked = []api.Question{asks("a", 1), asks("*.a", 0), asks(tooLong, 1)} }},
 		step[api.Message]{api.ErrName, func(m *api.Message) { m.Asked = []api.Question{asks("a", 1), asks(tooLong, 0), asks("a.", 1)} }},
 		step[api.Message]{api.ErrLarge, func(m *api.Message) { m.Asked = []api.Question{asks("a", 2), asks("a.", 1)} }},
@@ -83,6 +79,12 @@ func TestEncodeErrors(t *testing.T) {
 		step[api.Message]{api.ErrName, func(m *api.Message) {
 			m.Got = repeat(api.MaxGot, func(i int) api.Record { return record(words("a a 5 0.0.0.0")) })
 		}})
+	for _, n := range []int{math.MinInt, -1, 1 << 16, math.MaxInt} {
+		is(t, fmt.Sprint("Id ", n), check(api.Message{Id: n}), api.ErrArg)
+	}
+	for _, n := range []int{math.MinInt, -1, 16, math.MaxInt} {
+		is(t, fmt.Sprint("Code ", n), check(api.Message{Code: n}), api.ErrArg)
+	}
 	for kind := -2; kind < 40; kind++ {
 		want := api.ErrKind
 		if slices.Contains(kinds, kind) {

@@ -47,6 +47,7 @@ func TestAddr(t *testing.T) {
 		{api.Addr{Lo: 10<<24 + 1}, []byte{10, 0, 0, 1}},
 		{api.Addr{}, []byte{0, 0, 0, 0}},
 		{api.Addr{Six: true, Hi: 0x20010db8 << 32, Lo: 1}, []byte{0x20, 1, 0xd, 0xb8, 0, 0, 0, 0, 0, 0, 0, 0, 0, 0, 0, 1}},
+		{api.Addr{Six: true, Hi: 0x0102030405060708, Lo: 0xf9fafbfcfdfeff10}, []byte{1, 2, 3, 4, 5, 6, 7, 8, 0xf9, 0xfa, 0xfb, 0xfc, 0xfd, 0xfe, 0xff, 0x10}},
 	} {
 		if got := Addr([]byte{9}, c.a); !slices.Equal(got, append([]byte{9}, c.b...)) {
 			t.Errorf("%v: %v", c.a, got)
