@@ -25,7 +25,7 @@ func bytesOf(s string) []byte {
 	return out
 }
 
-// question of a name and a kind.
+// asks is a question for a name and a kind.
 func asks(s string, kind int) api.Question { return api.Question{Name: s, Kind: kind} }
 
 // P6.9: messages and their bytes, made by hand.
