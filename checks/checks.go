@@ -124,3 +124,8 @@ func Flow(f api.Flow) api.Errno {
 	}
 	return api.OK
 }
+
+// CompareFacts orders facts by their nodes, then by their postures.
+func CompareFacts(x, y api.Fact) int {
+	return cmp.Or(strings.Compare(x.Node, y.Node), strings.Compare(x.Posture, y.Posture))
+}

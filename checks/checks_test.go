@@ -1,6 +1,7 @@
 package checks
 
 import (
+	"cmp"
 	"math"
 	"testing"
 
@@ -180,6 +181,8 @@ func TestFlow(t *testing.T) {
 		breaks[i].do(&f)
 		is(t, breaks[i].name, Flow(f), breaks[i].e)
 	}
+	is(t, "nothing", Flow(api.Flow{}), api.ErrArg)
+	is(t, "the first port of ICMP", Flow(api.Flow{Proto: 1, ToPort: 1}), api.ErrArg)
 	for proto := 1; proto <= api.MaxProto; proto++ {
 		is(t, "no ports", Flow(api.Flow{Proto: proto}), api.OK)
 		want := api.ErrArg
@@ -190,4 +193,16 @@ func TestFlow(t *testing.T) {
 		is(t, "FromPort", Flow(api.Flow{Proto: proto, FromPort: api.MaxPort}), want)
 	}
 	is(t, "128 bits", Flow(api.Flow{Proto: 6, From: api.Addr{Six: true, Hi: 1}, To: api.Addr{Six: true}}), api.OK)
+}
+
+// P3.1, P7.6
+func TestCompareFacts(t *testing.T) {
+	l := []api.Fact{{Node: "m", Posture: "z"}, {Node: "n", Posture: "a"}, {Node: "n", Posture: "a-"}, {Node: "n", Posture: "b"}, {Node: "n-", Posture: "a"}}
+	for i, x := range l {
+		for k, y := range l {
+			if got := CompareFacts(x, y); got != cmp.Compare(i, k) {
+				t.Errorf("%v, %v: %d", x, y, got)
+			}
+		}
+	}
 }

@@ -173,13 +173,7 @@ func NextChange(d api.Directory, l []api.Step, at int) (int, bool, api.Errno) {
 	}
 	next := api.End
 	for _, m := range followed(d, l, api.End).machines {
-		for _, w := range m.live {
-			for _, change := range [2]int{w.From, w.To} {
-				if change > at {
-					next = min(next, change)
-				}
-			}
-		}
+		next = min(next, times.Next(m.live, at))
 	}
 	if next == api.End {
 		return 0, false, api.OK
@@ -192,11 +186,9 @@ func LiveTime(d api.Directory, l []api.Step, node string, w api.Window) (int, ap
 	if e := cmp.Or(checkLog(d, l), checks.Key(node), checks.Window(w)); e != api.OK {
 		return 0, e
 	}
-	sum := 0
-	if m := followed(d, l, api.End).machines[node]; m != nil {
-		for _, live := range m.live {
-			sum += times.Shared(live, w)
-		}
+	m := followed(d, l, api.End).machines[node]
+	if m == nil {
+		return 0, api.OK
 	}
-	return sum, api.OK
+	return times.Within(m.live, w), api.OK
 }

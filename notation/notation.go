@@ -14,12 +14,15 @@ func IsKey(s string) bool {
 		return false
 	}
 	for i := range len(s) {
-		if !IsSmall(s[i]) && !IsDigit(s[i]) && s[i] != '-' && s[i] != '_' {
+		if !InKey(s[i]) {
 			return false
 		}
 	}
 	return true
 }
+
+// InKey says whether a byte can be in a key.
+func InKey(b byte) bool { return IsSmall(b) || IsDigit(b) || b == '-' || b == '_' }
 
 // IsSmall says whether a byte is a small letter.
 func IsSmall(b byte) bool { return 'a' <= b && b <= 'z' }

@@ -24,7 +24,7 @@ func TestIsKey(t *testing.T) {
 	}
 }
 
-// Z10, Z11, P6.1
+// Z10, Z11, P6.1, P7.3
 func TestBytes(t *testing.T) {
 	for b := range 256 {
 		if got := IsSmall(byte(b)); got != strings.Contains("abcdefghijklmnopqrstuvwxyz", string([]byte{byte(b)})) {
@@ -32,6 +32,9 @@ func TestBytes(t *testing.T) {
 		}
 		if got := IsDigit(byte(b)); got != strings.Contains("0123456789", string([]byte{byte(b)})) {
 			t.Errorf("IsDigit of %d: %v", b, got)
+		}
+		if got := InKey(byte(b)); got != strings.Contains("abcdefghijklmnopqrstuvwxyz0123456789-_", string([]byte{byte(b)})) {
+			t.Errorf("InKey of %d: %v", b, got)
 		}
 	}
 }

@@ -7,6 +7,7 @@ import (
 
 	"holloway/api"
 	"holloway/checks"
+	"holloway/times"
 )
 
 // noAnswer is in the place of milliseconds where there was no answer.
@@ -59,7 +60,7 @@ func answersTo(l []api.Probe, node string) []api.Probe {
 // homesOf are the times of all homes of a node, by its probes that had an answer: rounds without one change nothing.
 func homesOf(answers []api.Probe, gain int) record {
 	var out record
-	for at, round := range moments(answers, momentOfProbe) {
+	for at, round := range times.Moments(answers, momentOfProbe) {
 		var offers []offer
 		for _, p := range round {
 			offers = append(offers, offer{who: p.Relay, millis: p.Millis})

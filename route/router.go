@@ -9,6 +9,7 @@ import (
 	"holloway/api"
 	"holloway/checks"
 	"holloway/span"
+	"holloway/times"
 )
 
 const maxWeight = 1_000
@@ -74,7 +75,7 @@ func followed(r []api.Router, l []api.Health) []*group {
 		}
 	}
 	up := map[string]bool{}
-	for at, told := range moments(l, momentOfHealth) {
+	for at, told := range times.Moments(l, momentOfHealth) {
 		for _, h := range told {
 			up[h.Node] = h.Up
 		}

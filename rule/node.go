@@ -36,11 +36,6 @@ func checkHolder(n api.Node) api.Errno {
 	return api.OK
 }
 
-// compareFacts orders facts by their nodes, then by their postures.
-func compareFacts(x, y api.Fact) int {
-	return cmp.Or(strings.Compare(x.Node, y.Node), strings.Compare(x.Posture, y.Posture))
-}
-
 // CheckFacts validates facts about nodes.
 func CheckFacts(nodes []api.Node, l []api.Fact) api.Errno {
 	if e := CheckNodes(nodes); e != api.OK {
@@ -60,7 +55,7 @@ func CheckFacts(nodes []api.Node, l []api.Fact) api.Errno {
 		if !notation.IsKey(f.Posture) {
 			return api.ErrName
 		}
-		if i > 0 && compareFacts(f, l[i-1]) <= 0 {
+		if i > 0 && checks.CompareFacts(f, l[i-1]) <= 0 {
 			return api.ErrOrder
 		}
 	}

@@ -1,0 +1,24 @@
+// Package lists makes one list of two.
+package lists
+
+import (
+	"slices"
+
+	"holloway/api"
+)
+
+// Merge are the parts of two lists, in order, those that are equal once; no two of them that differ may have one place in the order, and there may be at most so many.
+func Merge[T comparable](a, b []T, most int, compare func(x, y T) int) ([]T, api.Errno) {
+	all := slices.Concat(a, b)
+	slices.SortFunc(all, compare)
+	all = slices.Compact(all)
+	for i := 1; i < len(all); i++ {
+		if compare(all[i-1], all[i]) == 0 {
+			return nil, api.ErrConflict
+		}
+	}
+	if len(all) > most {
+		return nil, api.ErrLarge
+	}
+	return all, api.OK
+}

@@ -1,0 +1,48 @@
+package lists
+
+import (
+	"cmp"
+	"fmt"
+	"slices"
+	"testing"
+
+	"holloway/api"
+)
+
+// A part has a place in the order, and something else.
+type part struct{ place, rest int }
+
+func compare(x, y part) int { return cmp.Compare(x.place, y.place) }
+
+// P7.1, P7.6, Z2, Z4
+func TestMerge(t *testing.T) {
+	for _, c := range []struct {
+		a, b, want []part
+		e          api.Errno
+	}{
+		{nil, nil, nil, api.OK},
+		{[]part{{1, 1}}, nil, []part{{1, 1}}, api.OK},
+		{[]part{{1, 1}}, []part{{1, 1}}, []part{{1, 1}}, api.OK},
+		{[]part{{1, 1}, {5, 0}}, []part{{0, 9}, {3, 0}}, []part{{0, 9}, {1, 1}, {3, 0}, {5, 0}}, api.OK},
+		{[]part{{1, 1}, {5, 0}}, []part{{1, 1}, {3, 0}, {5, 0}, {6, 0}}, []part{{1, 1}, {3, 0}, {5, 0}, {6, 0}}, api.OK},
+		{[]part{{1, 1}}, []part{{1, 2}}, nil, api.ErrConflict},
+		{[]part{{1, 1}, {5, 0}}, []part{{2, 0}, {5, 1}}, nil, api.ErrConflict},
+		{[]part{{1, 1}, {2, 0}, {3, 0}}, []part{{4, 0}, {5, 0}}, nil, api.ErrLarge},
+		{[]part{{1, 1}, {2, 0}, {3, 0}}, []part{{3, 0}, {4, 0}}, []part{{1, 1}, {2, 0}, {3, 0}, {4, 0}}, api.OK},
+		{[]part{{1, 1}, {2, 0}, {3, 0}}, []part{{3, 1}, {4, 0}, {5, 0}}, nil, api.ErrConflict},
+	} {
+		before := fmt.Sprint(c.a, c.b)
+		for _, pair := range [][2][]part{{c.a, c.b}, {c.b, c.a}} {
+			got, e := Merge(pair[0], pair[1], 4, compare)
+			if !slices.Equal(got, c.want) || e != c.e {
+				t.Errorf("%v: %v, %v", pair, got, e)
+			}
+			for i := range got {
+				got[i] = part{}
+			}
+		}
+		if after := fmt.Sprint(c.a, c.b); after != before {
+			t.Errorf("%s became %s", before, after)
+		}
+	}
+}
