@@ -182,7 +182,7 @@ func Pick(p api.Pool, key string) (api.Pool, api.Prefix, api.Errno) {
 		return api.Pool{}, api.Prefix{}, api.ErrFull
 	}
 	wish := p.Prefix.Addr
-	wish.Lo += sum(key) % (1 << (all - p.Prefix.Bits))
+	wish.Lo += notation.Sum(key) % (1 << (all - p.Prefix.Bits))
 	q := api.Prefix{Addr: from(free, wish), Bits: all}
 	return withLease(p, api.Lease{Key: key, Prefix: q}), q, api.OK
 }
@@ -198,15 +198,6 @@ func from(l []api.Range, a api.Addr) api.Addr {
 		}
 	}
 	return l[0].First
-}
-
-// sum is the sum of a key.
-func sum(key string) uint64 {
-	h := uint64(14695981039346656037)
-	for i := range len(key) {
-		h = (h ^ uint64(key[i])) * 1099511628211
-	}
-	return h
 }
 
 // Pack leases all anew.

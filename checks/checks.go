@@ -24,6 +24,19 @@ func Need(so bool, e api.Errno) api.Errno {
 // Key is what is wrong with a key.
 func Key(s string) api.Errno { return Need(notation.IsKey(s), api.ErrName) }
 
+// Suffix is what is wrong with a suffix of names.
+func Suffix(s string) api.Errno {
+	if len(s) > api.MaxSuffix {
+		return api.ErrForm
+	}
+	for part := range strings.SplitSeq(s, ".") {
+		if !notation.IsKey(part) {
+			return api.ErrForm
+		}
+	}
+	return api.OK
+}
+
 // Number is what is wrong with a number that must be from one to another one.
 func Number(n, least, most int) api.Errno { return Need(least <= n && n <= most, api.ErrArg) }
 

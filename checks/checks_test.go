@@ -3,6 +3,7 @@ package checks
 import (
 	"cmp"
 	"math"
+	"strings"
 	"testing"
 
 	"holloway/api"
@@ -36,6 +37,18 @@ func TestSmallOnes(t *testing.T) {
 	is(t, "no moment that comes", Onward(api.End, 7), api.ErrArg)
 	is(t, "Window", Window(api.Window{From: 0, To: api.End}), api.OK)
 	is(t, "no window", Window(api.Window{From: 1, To: 0}), api.ErrArg)
+}
+
+// P8.1
+func TestSuffix(t *testing.T) {
+	long := strings.Repeat("a", api.MaxName)
+	full := long + "." + long + "." + strings.Repeat("b", api.MaxSuffix-2*api.MaxName-2)
+	for _, s := range []string{"a", "net", "corp.net", "a.b.c.d", "a-_0.b-_9-", long, long + ".a", full} {
+		is(t, s, Suffix(s), api.OK)
+	}
+	for _, s := range []string{"", ".", "a.", ".a", "a..b", "A", "a.B", "a b", "a.0", "a.-b", "a._b", "0.a", "a\n", "a.\n", "é", "a,b", long + "a", "a." + long + "a", full + "b", full + ".", strings.Repeat("a", 200_000), strings.Repeat("a.", 100_000)} {
+		is(t, s, Suffix(s), api.ErrForm)
+	}
 }
 
 // P5.1, P5.4, P5.5, P5.6, Z4

@@ -7,6 +7,7 @@ import (
 	"holloway/api"
 	"holloway/rule"
 	"holloway/span"
+	"holloway/whats"
 )
 
 // Ground are the addresses and routes of a node.
@@ -55,46 +56,12 @@ func newMaker(s api.Scene, n api.Node) *maker {
 		m.facts[f] = true
 	}
 	ground := groundOf(n)
-	m.addresses = remembered(addressesOf(s))
-	m.reached = remembered(func(w api.What) []api.Range {
+	m.addresses = whats.Addresses(s)
+	m.reached = whats.Once(func(w api.What) []api.Range {
 		return span.Combine(m.addresses(w), ground, func(inWhat, inGround bool) bool { return inWhat && inGround })
 	})
 	m.people = peopleOf(s.Nodes, ground)
 	return m
-}
-
-// addressesOf looks up the addresses of the whats of a scene that is right.
-func addressesOf(s api.Scene) func(w api.What) []api.Range {
-	return func(w api.What) []api.Range {
-		l, _ := rule.Addresses(neededFor(s, w), w)
-		return span.Of(l)
-	}
-}
-
-// neededFor is the part of a scene on which the addresses of a what depend: all that is there is checked anew for each what.
-func neededFor(s api.Scene, w api.What) api.Scene {
-	switch w.Kind {
-	case api.WhatAll, api.WhatNet, api.WhatSelf:
-		return api.Scene{}
-	case api.WhatHost:
-		return api.Scene{Policy: api.Policy{Hosts: s.Policy.Hosts}}
-	case api.WhatGroup:
-		return api.Scene{Nodes: s.Nodes, Policy: api.Policy{Groups: s.Policy.Groups}}
-	}
-	return api.Scene{Nodes: s.Nodes}
-}
-
-// remembered asks a function only once for each what.
-func remembered(ask func(w api.What) []api.Range) func(w api.What) []api.Range {
-	known := map[api.What][]api.Range{}
-	return func(w api.What) []api.Range {
-		l, ok := known[w]
-		if !ok {
-			l = ask(w)
-			known[w] = l
-		}
-		return l
-	}
 }
 
 // peopleOf are the users of nodes.

@@ -1,4 +1,4 @@
-// Package lists makes one list of two.
+// Package lists makes lists of other ones.
 package lists
 
 import (
@@ -21,4 +21,13 @@ func Merge[T comparable](a, b []T, most int, compare func(x, y T) int) ([]T, api
 		return nil, api.ErrLarge
 	}
 	return all, api.OK
+}
+
+// Map is a list of what f makes of the parts of a list.
+func Map[T, U any](l []T, f func(x T) U) []U {
+	out := make([]U, 0, len(l))
+	for _, x := range l {
+		out = append(out, f(x))
+	}
+	return out
 }

@@ -46,3 +46,23 @@ func TestMerge(t *testing.T) {
 		}
 	}
 }
+
+// P8.2, Z2: it is a list of its own.
+func TestMap(t *testing.T) {
+	double := func(n int) int { return 2 * n }
+	l := []int{3, 1, 2, 9}
+	out := Map(l[:3], double)
+	if !slices.Equal(out, []int{6, 2, 4}) {
+		t.Errorf("%v", out)
+	}
+	out[0] = 7
+	_ = append(out, 8)
+	if !slices.Equal(l, []int{3, 1, 2, 9}) {
+		t.Errorf("%v", l)
+	}
+	for _, none := range [][]int{nil, {}} {
+		if out := Map(none, double); len(out) > 0 {
+			t.Errorf("%v", out)
+		}
+	}
+}

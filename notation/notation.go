@@ -65,6 +65,15 @@ func Signed(s string, digits int) (int, bool) {
 	return n, ok
 }
 
+// Sum is the sum of the bytes of a string: other strings have mostly another one.
+func Sum(s string) uint64 {
+	h := uint64(14695981039346656037)
+	for i := range len(s) {
+		h = (h ^ uint64(s[i])) * 1099511628211
+	}
+	return h
+}
+
 // ReadLines hands the lines of a text to take, until it says that one has not its form; the int is the number of a line that has not, or that is not ended.
 func ReadLines(text string, take func(line string) bool) (int, api.Errno) {
 	if len(text) > api.MaxText {

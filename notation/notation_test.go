@@ -1,6 +1,7 @@
 package notation
 
 import (
+	"hash/fnv"
 	"slices"
 	"strconv"
 	"strings"
@@ -89,6 +90,17 @@ func TestSigned(t *testing.T) {
 	for _, s := range []string{"", "-", "-0", "-00", "-01", "00", "01", "--1", "+1", "- 1", "-1 ", " -1", "1-", "-a", "-1a", "1234", "-1234"} {
 		if n, ok := Signed(s, 3); n != 0 || ok {
 			t.Errorf("%q: %d, %v", s, n, ok)
+		}
+	}
+}
+
+// P1.6, P8.4: it is what another library computes.
+func TestSum(t *testing.T) {
+	for _, s := range []string{"", "a", "b", "ab", "ba", "a\x00", "\xff", "é", strings.Repeat("self", 50_000)} {
+		h := fnv.New64a()
+		h.Write([]byte(s))
+		if got, want := Sum(s), h.Sum64(); got != want {
+			t.Errorf("%.20q: %d, not %d", s, got, want)
 		}
 	}
 }

@@ -124,12 +124,15 @@ func Of(l []api.Prefix) []api.Range {
 }
 
 // Has says whether a least list has an address.
-func Has(l []api.Range, a api.Addr) bool {
-	_, ok := slices.BinarySearchFunc(l, a, func(r api.Range, a api.Addr) int {
-		if Compare(r.Last, a) < 0 {
+func Has(l []api.Range, a api.Addr) bool { return Meets(l, api.Range{First: a, Last: a}) }
+
+// Meets says whether a least list has an address of a range.
+func Meets(l []api.Range, r api.Range) bool {
+	_, ok := slices.BinarySearchFunc(l, r, func(x, r api.Range) int {
+		if Compare(x.Last, r.First) < 0 {
 			return -1
 		}
-		return max(Compare(r.First, a), 0)
+		return max(Compare(x.First, r.Last), 0)
 	})
 	return ok
 }

@@ -80,6 +80,35 @@ func TestHas(t *testing.T) {
 	is(t, "Has", Has(l, top4), true)
 }
 
+// P8.1: ranges are held against the addresses one by one.
+func TestMeets(t *testing.T) {
+	six := func(first, last uint64) api.Range {
+		return api.Range{First: api.Addr{Six: true, Lo: first}, Last: api.Addr{Six: true, Lo: last}}
+	}
+	for bits := range 1 << 7 {
+		var parts []api.Range
+		for n := range uint64(7) {
+			if bits>>n&1 == 1 {
+				parts = append(parts, from(n, n))
+			}
+		}
+		l := Join(parts)
+		for first := range uint64(7) {
+			for last := first; last < 7; last++ {
+				want := bits>>first&(1<<(last-first+1)-1) != 0
+				is(t, "Meets", Meets(l, from(first, last)), want)
+				is(t, "of both lengths", Meets(append(l, six(9, 9)), from(first, last)), want)
+				is(t, "of the other length", Meets(l, six(first, last)), false)
+				is(t, "of the other length", Meets(append(l, six(9, 9)), six(first, last)), false)
+			}
+		}
+	}
+	is(t, "Meets", Meets([]api.Range{from(7, 7)}, from(0, math.MaxUint32)), true)
+	is(t, "Meets", Meets([]api.Range{from(0, math.MaxUint32)}, from(7, 7)), true)
+	is(t, "Meets", Meets([]api.Range{six(5, 9)}, six(9, 12)), true)
+	is(t, "Meets", Meets([]api.Range{six(5, 9)}, six(10, 12)), false)
+}
+
 // P3.1, P4.2
 func TestSingles(t *testing.T) {
 	is(t, "Singles", Singles([]api.Addr{{Lo: 7}, {Lo: 6}, {Six: true, Hi: 1}}), []api.Range{from(7, 7), from(6, 6), {First: api.Addr{Six: true, Hi: 1}, Last: api.Addr{Six: true, Hi: 1}}})
