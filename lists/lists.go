@@ -31,3 +31,16 @@ func Map[T, U any](l []T, f func(x T) U) []U {
 	}
 	return out
 }
+
+// Gather are the parts of a list in order, with one that join makes in the place of all that have one place in the order; what it makes must have it, too.
+func Gather[T any](l []T, compare func(x, y T) int, join func(x, y T) T) []T {
+	var out []T
+	for _, x := range slices.SortedStableFunc(slices.Values(l), compare) {
+		if n := len(out); n > 0 && compare(out[n-1], x) == 0 {
+			out[n-1] = join(out[n-1], x)
+		} else {
+			out = append(out, x)
+		}
+	}
+	return out
+}

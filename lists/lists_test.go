@@ -66,3 +66,46 @@ func TestMap(t *testing.T) {
 		}
 	}
 }
+
+// P9.2, P9.4, Z2: parts with one place are joined as they come in the list.
+func TestGather(t *testing.T) {
+	join := func(x, y part) part { return part{x.place, 10*x.rest + y.rest} }
+	for _, c := range []struct{ l, want []part }{
+		{nil, nil},
+		{[]part{}, nil},
+		{[]part{{1, 1}}, []part{{1, 1}}},
+		{[]part{{2, 1}, {1, 2}}, []part{{1, 2}, {2, 1}}},
+		{[]part{{1, 1}, {1, 2}}, []part{{1, 12}}},
+		{[]part{{1, 2}, {1, 1}}, []part{{1, 21}}},
+		{[]part{{2, 1}, {1, 1}, {2, 2}, {3, 5}, {1, 2}, {2, 3}}, []part{{1, 12}, {2, 123}, {3, 5}}},
+		{[]part{{1, 1}, {2, 1}, {1, 1}}, []part{{1, 11}, {2, 1}}},
+	} {
+		before := fmt.Sprint(c.l)
+		got := Gather(c.l, compare, join)
+		if !slices.Equal(got, c.want) {
+			t.Errorf("%v: %v", c.l, got)
+		}
+		for i := range got {
+			got[i] = part{}
+		}
+		if after := fmt.Sprint(c.l); after != before {
+			t.Errorf("%s became %s", before, after)
+		}
+	}
+	// With many parts, too.
+	var l []part
+	for i := range 1_000 {
+		l = append(l, part{place: i * 7 % 10, rest: i})
+	}
+	last := func(x, y part) part {
+		if y.rest < x.rest {
+			t.Errorf("%v ahead of %v", x, y)
+		}
+		return y
+	}
+	for i, x := range Gather(l, compare, last) {
+		if x.place != i || x.rest < 990 {
+			t.Errorf("%d: %v", i, x)
+		}
+	}
+}
