@@ -119,6 +119,16 @@ func Routes(l []api.Prefix) api.Errno {
 	return api.OK
 }
 
+// Places is what is wrong with the places of nodes.
+func Places(l []api.Place) api.Errno {
+	key := func(p api.Place) api.Errno { return Key(p.Node) }
+	byNode := func(x, y api.Place) int { return strings.Compare(x.Node, y.Node) }
+	taken := map[api.Addr]bool{}
+	return Rising(l, api.MaxNodes, key, byNode, func(p api.Place) api.Errno {
+		return cmp.Or(Addrs(p.Addrs, taken, api.ErrConflict), Routes(p.Routes))
+	})
+}
+
 // Flow is what is wrong with a flow.
 func Flow(f api.Flow) api.Errno {
 	if f.Proto < 1 || f.Proto > api.MaxProto {
@@ -136,9 +146,4 @@ func Flow(f api.Flow) api.Errno {
 		}
 	}
 	return api.OK
-}
-
-// CompareFacts orders facts by their nodes, then by their postures.
-func CompareFacts(x, y api.Fact) int {
-	return cmp.Or(strings.Compare(x.Node, y.Node), strings.Compare(x.Posture, y.Posture))
 }

@@ -1,7 +1,6 @@
 package checks
 
 import (
-	"cmp"
 	"math"
 	"strings"
 	"testing"
@@ -160,6 +159,48 @@ func TestRoutes(t *testing.T) {
 	is(t, "too many", Routes(make([]api.Prefix, api.MaxRoutes+1)), api.ErrLarge)
 }
 
+// P2.6, P10.1, Z4
+func TestPlaces(t *testing.T) {
+	place := func(node string, addrs ...uint64) api.Place {
+		p := api.Place{Node: node}
+		for _, lo := range addrs {
+			p.Addrs = append(p.Addrs, api.Addr{Lo: lo})
+		}
+		return p
+	}
+	routed := func(p api.Place, bits ...int) api.Place {
+		for _, n := range bits {
+			p.Routes = append(p.Routes, api.Prefix{Bits: n})
+		}
+		return p
+	}
+	full := make([]api.Place, api.MaxNodes)
+	for i := range full {
+		full[i].Node = "k" + string([]byte{byte('a' + i/26%26), byte('a' + i%26)})
+	}
+	is(t, "full", Places(full), api.OK)
+	for _, c := range []struct {
+		name string
+		l    []api.Place
+		e    api.Errno
+	}{
+		{"none", nil, api.OK},
+		{"places", []api.Place{routed(place("a", 1, 2), 0, 8), routed(place("b", 3), 8, 0), place("c")}, api.OK},
+		{"too many", make([]api.Place, api.MaxNodes+1), api.ErrLarge},
+		{"no key", []api.Place{place("a"), place("A", 1<<32)}, api.ErrName},
+		{"twice", []api.Place{place("a"), place("a", 1<<32)}, api.ErrOrder},
+		{"out of order", []api.Place{place("b"), place("a"), place("A")}, api.ErrOrder},
+		{"no address", []api.Place{routed(place("a", 1<<32), 33), place("A")}, api.ErrForm},
+		{"many addresses", []api.Place{place("a", 1, 1, 1, 1, 1)}, api.ErrLarge},
+		{"an address again", []api.Place{routed(place("a", 1, 1), 33)}, api.ErrConflict},
+		{"that of another one", []api.Place{place("a", 1), place("b", 2, 1)}, api.ErrConflict},
+		{"no route", []api.Place{routed(place("a"), 33), place("A")}, api.ErrArg},
+		{"a route again", []api.Place{routed(place("a"), 8, 0, 8)}, api.ErrTwice},
+	} {
+		is(t, c.name, Places(c.l), c.e)
+	}
+}
+
 // P3.2, Z4, Z6
 func TestFlow(t *testing.T) {
 	right := api.Flow{Proto: 6, From: api.Addr{Lo: 1}, To: api.Addr{Lo: 2}, FromPort: 3, ToPort: 4}
@@ -206,16 +247,4 @@ func TestFlow(t *testing.T) {
 		is(t, "FromPort", Flow(api.Flow{Proto: proto, FromPort: api.MaxPort}), want)
 	}
 	is(t, "128 bits", Flow(api.Flow{Proto: 6, From: api.Addr{Six: true, Hi: 1}, To: api.Addr{Six: true}}), api.OK)
-}
-
-// P3.1, P7.6
-func TestCompareFacts(t *testing.T) {
-	l := []api.Fact{{Node: "m", Posture: "z"}, {Node: "n", Posture: "a"}, {Node: "n", Posture: "a-"}, {Node: "n", Posture: "b"}, {Node: "n-", Posture: "a"}}
-	for i, x := range l {
-		for k, y := range l {
-			if got := CompareFacts(x, y); got != cmp.Compare(i, k) {
-				t.Errorf("%v, %v: %d", x, y, got)
-			}
-		}
-	}
 }

@@ -5,12 +5,8 @@ import (
 
 	"holloway/api"
 	"holloway/lists"
+	"holloway/values"
 )
-
-func sameNode(x, y api.Node) bool {
-	names := x.Key == y.Key && x.User == y.User && x.Name == y.Name
-	return names && slices.Equal(x.Tags, y.Tags) && slices.Equal(x.Addrs, y.Addrs) && slices.Equal(x.Routes, y.Routes)
-}
 
 func samePeer(x, y api.Peer) bool {
 	return x.Key == y.Key && x.Name == y.Name && slices.Equal(x.Addrs, y.Addrs) && slices.Equal(x.Routes, y.Routes)
@@ -23,12 +19,7 @@ func sameRow(x, y api.Filter) bool {
 func sameRows(x, y []api.Filter) bool { return slices.EqualFunc(x, y, sameRow) }
 
 func sameMap(x, y api.Map) bool {
-	return sameNode(x.Self, y.Self) && slices.EqualFunc(x.Peers, y.Peers, samePeer) && sameRows(x.Filters, y.Filters) && x.Suffix == y.Suffix
-}
-
-func cloneNode(n api.Node) api.Node {
-	n.Tags, n.Addrs, n.Routes = slices.Clone(n.Tags), slices.Clone(n.Addrs), slices.Clone(n.Routes)
-	return n
+	return values.SameNode(x.Self, y.Self) && slices.EqualFunc(x.Peers, y.Peers, samePeer) && sameRows(x.Filters, y.Filters) && x.Suffix == y.Suffix
 }
 
 func clonePeer(p api.Peer) api.Peer {
@@ -46,25 +37,13 @@ func cloneRows(l []api.Filter) []api.Filter {
 }
 
 func cloneMap(m api.Map) api.Map {
-	m.Self, m.Peers, m.Filters = cloneNode(m.Self), clonePeers(m.Peers), cloneRows(m.Filters)
+	m.Self, m.Peers, m.Filters = values.CopyNode(m.Self), clonePeers(m.Peers), cloneRows(m.Filters)
 	return m
-}
-
-func cloneGroup(g api.Group) api.Group {
-	g.Members = slices.Clone(g.Members)
-	return g
-}
-
-func cloneGrant(g api.Grant) api.Grant {
-	g.Src, g.Dst, g.Postures = slices.Clone(g.Src), slices.Clone(g.Dst), slices.Clone(g.Postures)
-	return g
 }
 
 func cloneWorld(w api.World) api.World {
 	s := &w.Scene
-	s.Nodes, s.Facts, w.Firsts = lists.Map(s.Nodes, cloneNode), slices.Clone(s.Facts), slices.Clone(w.Firsts)
-	p := &s.Policy
-	p.Groups, p.Hosts = lists.Map(p.Groups, cloneGroup), slices.Clone(p.Hosts)
-	p.Grants, p.Tests = lists.Map(p.Grants, cloneGrant), slices.Clone(p.Tests)
+	s.Nodes, s.Facts, w.Firsts = lists.Map(s.Nodes, values.CopyNode), slices.Clone(s.Facts), slices.Clone(w.Firsts)
+	s.Policy = values.CopyPolicy(s.Policy)
 	return w
 }

@@ -8,6 +8,7 @@ import (
 	"holloway/api"
 	"holloway/checks"
 	"holloway/filter"
+	"holloway/values"
 )
 
 // byKeys are peers by their keys.
@@ -41,8 +42,8 @@ func between(a, b api.Map) api.Patch {
 			p.Put = append(p.Put, clonePeer(y))
 		}
 	}
-	if !sameNode(a.Self, b.Self) {
-		p.HasSelf, p.Self = true, cloneNode(b.Self)
+	if !values.SameNode(a.Self, b.Self) {
+		p.HasSelf, p.Self = true, values.CopyNode(b.Self)
 	}
 	if !sameRows(a.Filters, b.Filters) {
 		p.HasFilters, p.Filters = true, cloneRows(b.Filters)
@@ -66,7 +67,7 @@ func CheckPatch(p api.Patch) api.Errno {
 		}
 	}
 	return cmp.Or(
-		checkHad(p.HasSelf, checkSelf(p.Self), sameNode(p.Self, api.Node{})),
+		checkHad(p.HasSelf, checkSelf(p.Self), values.SameNode(p.Self, api.Node{})),
 		checkHad(p.HasFilters, filter.Check(p.Filters), len(p.Filters) == 0),
 		checkHad(p.HasSuffix, checks.Suffix(p.Suffix), p.Suffix == ""),
 	)
@@ -104,7 +105,7 @@ func joined(p, q api.Patch) api.Patch {
 	if !q.HasSuffix {
 		out.HasSuffix, out.Suffix = p.HasSuffix, p.Suffix
 	}
-	out.Self, out.Filters = cloneNode(out.Self), cloneRows(out.Filters)
+	out.Self, out.Filters = values.CopyNode(out.Self), cloneRows(out.Filters)
 	return out
 }
 

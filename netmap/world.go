@@ -12,6 +12,7 @@ import (
 	"holloway/ports"
 	"holloway/rule"
 	"holloway/span"
+	"holloway/values"
 	"holloway/whats"
 )
 
@@ -53,7 +54,7 @@ func mapOf(w api.World, node string) (api.Map, api.Errno) {
 	}
 	// The node is there: Compile says if it is not.
 	i := slices.IndexFunc(w.Scene.Nodes, func(n api.Node) bool { return n.Key == node })
-	self := cloneNode(w.Scene.Nodes[i])
+	self := values.CopyNode(w.Scene.Nodes[i])
 	return api.Map{Self: self, Peers: peersOf(w, self), Filters: rows, Suffix: w.Suffix}, api.OK
 }
 

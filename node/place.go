@@ -1,27 +1,15 @@
 package node
 
 import (
-	"cmp"
 	"slices"
-	"strings"
 
 	"holloway/api"
 	"holloway/checks"
 )
 
-// checkPlaces validates places.
-func checkPlaces(l []api.Place) api.Errno {
-	key := func(p api.Place) api.Errno { return checks.Key(p.Node) }
-	byNode := func(x, y api.Place) int { return strings.Compare(x.Node, y.Node) }
-	taken := map[api.Addr]bool{}
-	return checks.Rising(l, api.MaxNodes, key, byNode, func(p api.Place) api.Errno {
-		return cmp.Or(checks.Addrs(p.Addrs, taken, api.ErrConflict), checks.Routes(p.Routes))
-	})
-}
-
 // Nodes are the live nodes at a moment, with their places.
 func Nodes(d api.Directory, l []api.Step, places []api.Place, at int) ([]api.Node, api.Errno) {
-	n, e := networkAt(d, l, checkPlaces(places), at)
+	n, e := networkAt(d, l, checks.Places(places), at)
 	if e != api.OK {
 		return nil, e
 	}

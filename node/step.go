@@ -3,10 +3,10 @@ package node
 import (
 	"cmp"
 	"slices"
-	"strings"
 
 	"holloway/api"
 	"holloway/notation"
+	"holloway/orders"
 	"holloway/times"
 )
 
@@ -81,11 +81,6 @@ type origin struct {
 
 func originOf(s api.Step) origin { return origin{server: s.Server, no: s.No} }
 
-// compareSteps orders steps by their moments, of equal ones by their origins.
-func compareSteps(x, y api.Step) int {
-	return cmp.Or(cmp.Compare(x.At, y.At), strings.Compare(x.Server, y.Server), cmp.Compare(x.No, y.No))
-}
-
 // Check validates a log.
 func Check(l []api.Step) api.Errno {
 	if len(l) > api.MaxSteps {
@@ -97,7 +92,7 @@ func Check(l []api.Step) api.Errno {
 		if e := checkStep(table, &l[i]); e != api.OK {
 			return e
 		}
-		if i > 0 && compareSteps(s, l[i-1]) <= 0 {
+		if i > 0 && orders.Steps(s, l[i-1]) <= 0 {
 			return api.ErrOrder
 		}
 		if known[originOf(s)] {
@@ -113,7 +108,7 @@ func checkNext(l []api.Step, s api.Step) api.Errno {
 	if e := checkStep(columns(), &s); e != api.OK {
 		return e
 	}
-	if len(l) > 0 && compareSteps(s, l[len(l)-1]) <= 0 {
+	if len(l) > 0 && orders.Steps(s, l[len(l)-1]) <= 0 {
 		return api.ErrOrder
 	}
 	if slices.ContainsFunc(l, func(x api.Step) bool { return originOf(x) == originOf(s) }) {
@@ -129,7 +124,7 @@ func Merge(a, b []api.Step) ([]api.Step, api.Errno) {
 	}
 	table := columns()
 	all := slices.Concat(a, b)
-	slices.SortFunc(all, compareSteps)
+	slices.SortFunc(all, orders.Steps)
 	known := make(map[origin]api.Step, len(all))
 	var out []api.Step
 	for _, s := range all {

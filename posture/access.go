@@ -6,6 +6,7 @@ import (
 
 	"holloway/api"
 	"holloway/checks"
+	"holloway/orders"
 )
 
 // CheckAccess validates who may give postures.
@@ -34,9 +35,7 @@ func checkAsking(x api.Asking) api.Errno {
 
 // CheckAskings validates askings.
 func CheckAskings(l []api.Asking) api.Errno {
-	return checks.Rising(l, api.MaxAskings, checkAsking, func(x, y api.Asking) int {
-		return cmp.Or(cmp.Compare(x.At, y.At), strings.Compare(x.Key, y.Key), strings.Compare(x.By, y.By))
-	})
+	return checks.Rising(l, api.MaxAskings, checkAsking, orders.Askings)
 }
 
 // checkDesk is what is wrong with accesses and askings.

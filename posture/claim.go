@@ -3,17 +3,12 @@ package posture
 import (
 	"cmp"
 	"slices"
-	"strings"
 
 	"holloway/api"
 	"holloway/checks"
 	"holloway/lists"
+	"holloway/orders"
 )
-
-// compareClaims orders claims by their moments, then by their nodes and names.
-func compareClaims(x, y api.Claim) int {
-	return cmp.Or(cmp.Compare(x.At, y.At), strings.Compare(x.Node, y.Node), strings.Compare(x.Name, y.Name))
-}
 
 func momentOfClaim(x api.Claim) int { return x.At }
 
@@ -21,7 +16,7 @@ func momentOfClaim(x api.Claim) int { return x.At }
 func CheckClaims(l []api.Claim) api.Errno {
 	return checks.Rising(l, api.MaxClaims, func(x api.Claim) api.Errno {
 		return cmp.Or(checks.Moment(x.At), checks.Key(x.Node), checks.Key(x.Name), checkAttr(x.Value))
-	}, compareClaims)
+	}, orders.Claims)
 }
 
 // Merge are the claims of two lists.
@@ -29,7 +24,7 @@ func Merge(a, b []api.Claim) ([]api.Claim, api.Errno) {
 	if e := cmp.Or(CheckClaims(a), CheckClaims(b)); e != api.OK {
 		return nil, e
 	}
-	return lists.Merge(a, b, api.MaxClaims, compareClaims)
+	return lists.Merge(a, b, api.MaxClaims, orders.Claims)
 }
 
 // checkFresh is what is wrong with for how many seconds a claim is fresh.
@@ -78,7 +73,7 @@ func withEnds(l []api.Claim, fresh int) []api.Claim {
 		}
 		next[of] = x.At
 	}
-	slices.SortFunc(out, compareClaims)
+	slices.SortFunc(out, orders.Claims)
 	return out
 }
 

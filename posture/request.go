@@ -8,6 +8,7 @@ import (
 
 	"holloway/api"
 	"holloway/checks"
+	"holloway/orders"
 	"holloway/times"
 )
 
@@ -194,7 +195,7 @@ func Given(r []api.Access, l []api.Asking, at int) ([]api.Fact, api.Errno) {
 			out = append(out, f)
 		}
 	}
-	slices.SortFunc(out, checks.CompareFacts)
+	slices.SortFunc(out, orders.Facts)
 	return out, api.OK
 }
 

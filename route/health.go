@@ -2,18 +2,16 @@ package route
 
 import (
 	"cmp"
-	"strings"
 
 	"holloway/api"
 	"holloway/checks"
+	"holloway/orders"
 )
 
 // CheckHealth validates what is told of health.
 func CheckHealth(l []api.Health) api.Errno {
 	check := func(h api.Health) api.Errno { return cmp.Or(checks.Moment(h.At), checks.Key(h.Node)) }
-	return checks.Rising(l, api.MaxHealth, check, func(x, y api.Health) int {
-		return cmp.Or(cmp.Compare(x.At, y.At), strings.Compare(x.Node, y.Node))
-	})
+	return checks.Rising(l, api.MaxHealth, check, orders.Health)
 }
 
 func momentOfHealth(h api.Health) int { return h.At }

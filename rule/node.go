@@ -7,6 +7,7 @@ import (
 	"holloway/api"
 	"holloway/checks"
 	"holloway/notation"
+	"holloway/orders"
 )
 
 // CheckNodes validates nodes.
@@ -55,7 +56,7 @@ func CheckFacts(nodes []api.Node, l []api.Fact) api.Errno {
 		if !notation.IsKey(f.Posture) {
 			return api.ErrName
 		}
-		if i > 0 && checks.CompareFacts(f, l[i-1]) <= 0 {
+		if i > 0 && orders.Facts(f, l[i-1]) <= 0 {
 			return api.ErrOrder
 		}
 	}
