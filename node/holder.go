@@ -6,6 +6,7 @@ import (
 
 	"holloway/api"
 	"holloway/checks"
+	"holloway/steps"
 )
 
 // Keys are the public keys that a node had.
@@ -22,7 +23,7 @@ func Keys(d api.Directory, l []api.Step, node string) ([]api.Held, api.Errno) {
 
 // NodeOf is the node that has a public key at a moment.
 func NodeOf(d api.Directory, l []api.Step, public string, at int) (string, bool, api.Errno) {
-	n, e := networkAt(d, l, checks.Need(isPublic(public), api.ErrName), at)
+	n, e := networkAt(d, l, checks.Need(steps.IsPublic(public), api.ErrName), at)
 	if e != api.OK {
 		return "", false, e
 	}

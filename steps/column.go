@@ -1,4 +1,4 @@
-package node
+package steps
 
 import (
 	"slices"
@@ -23,13 +23,13 @@ type column struct {
 	read  func(word string, s *api.Step) bool
 }
 
-// columns are those of the document's table, in its order.
-func columns() []column {
-	return []column{
+// Columns makes the table of all columns.
+func Columns() Table {
+	return Table{
 		wordColumn(func(s *api.Step) *string { return &s.By }, notation.IsKey),
 		wordColumn(func(s *api.Step) *string { return &s.Node }, notation.IsKey),
 		wordColumn(func(s *api.Step) *string { return &s.Join }, notation.IsKey),
-		wordColumn(func(s *api.Step) *string { return &s.Public }, isPublic),
+		wordColumn(func(s *api.Step) *string { return &s.Public }, IsPublic),
 		wordColumn(func(s *api.Step) *string { return &s.Name }, notation.IsKey),
 		tagsColumn(),
 		numberColumn(func(s *api.Step) *int { return &s.Until }),
@@ -38,8 +38,8 @@ func columns() []column {
 	}
 }
 
-// isPublic says whether a string can be a public key.
-func isPublic(s string) bool {
+// IsPublic says whether a string can be a public key.
+func IsPublic(s string) bool {
 	for i := range len(s) {
 		if strings.IndexByte("0123456789abcdef", s[i]) < 0 {
 			return false
@@ -101,7 +101,7 @@ func numberColumn(of func(s *api.Step) *int) column {
 		zero:  func(s *api.Step) bool { return *of(s) == 0 },
 		write: func(s *api.Step) string { return strconv.Itoa(*of(s)) },
 		read: func(word string, s *api.Step) bool {
-			n, ok := notation.Signed(word, maxDigits)
+			n, ok := Number(word)
 			*of(s) = n
 			return ok
 		},
