@@ -2,6 +2,8 @@
 package whats
 
 import (
+	"slices"
+
 	"holloway/api"
 	"holloway/rule"
 	"holloway/span"
@@ -24,8 +26,25 @@ func neededFor(s api.Scene, w api.What) api.Scene {
 		return api.Scene{Policy: api.Policy{Hosts: s.Policy.Hosts}}
 	case api.WhatGroup:
 		return api.Scene{Nodes: s.Nodes, Policy: api.Policy{Groups: s.Policy.Groups}}
+	case api.WhatUser:
+		return those(s.Nodes, func(n api.Node) bool { return n.User == w.Name })
+	case api.WhatTag:
+		return those(s.Nodes, func(n api.Node) bool { return slices.Contains(n.Tags, w.Name) })
+	case api.WhatNode:
+		return those(s.Nodes, func(n api.Node) bool { return n.Key == w.Name })
 	}
 	return api.Scene{Nodes: s.Nodes}
+}
+
+// those is a scene of those of some nodes that a what names.
+func those(nodes []api.Node, names func(n api.Node) bool) api.Scene {
+	var out []api.Node
+	for _, n := range nodes {
+		if names(n) {
+			out = append(out, n)
+		}
+	}
+	return api.Scene{Nodes: out}
 }
 
 // Once asks a function only once for each what.
