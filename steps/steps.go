@@ -90,7 +90,7 @@ func (t Table) Text(s *api.Step) string {
 // Read reads the words of a step from that of its kind on; the step need not be right.
 func (t Table) Read(words []string) (api.Step, bool) {
 	kind := slices.IndexFunc(forms[:], func(f form) bool { return len(words) > 0 && f.word == words[0] }) + 1
-	if kind == 0 || slices.Contains(words, "") {
+	if kind == 0 {
 		return api.Step{}, false
 	}
 	s := api.Step{Kind: kind}
