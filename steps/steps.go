@@ -2,7 +2,6 @@
 package steps
 
 import (
-	"slices"
 	"strings"
 
 	"holloway/api"
@@ -32,6 +31,16 @@ var forms = [...]form{
 	{"tag", "++...+..."},
 	{"expire", "++......."},
 	{"gone", "++......."},
+}
+
+// kindOf is the kind with a word; 0 if there is none.
+func kindOf(word string) int {
+	for i, f := range forms {
+		if f.word == word {
+			return i + 1
+		}
+	}
+	return 0
 }
 
 // cellsOf is what a kind that there is does with each column.
@@ -89,7 +98,10 @@ func (t Table) Text(s *api.Step) string {
 
 // Read reads the words of a step from that of its kind on; the step need not be right.
 func (t Table) Read(words []string) (api.Step, bool) {
-	kind := slices.IndexFunc(forms[:], func(f form) bool { return len(words) > 0 && f.word == words[0] }) + 1
+	if len(words) == 0 {
+		return api.Step{}, false
+	}
+	kind := kindOf(words[0])
 	if kind == 0 {
 		return api.Step{}, false
 	}
