@@ -55,6 +55,16 @@ var forms = [...]form{
 	{wordFilter, 4, atSuffix, atFilter},
 }
 
+// kindOf is the kind of lines with a word; atStart if there is none.
+func kindOf(word string) int {
+	for i, f := range forms {
+		if f.word == word {
+			return atSelf + i
+		}
+	}
+	return atStart
+}
+
 // nodeLines are the lines of a node, behind the first one.
 func nodeLines(n api.Node) []string {
 	var out []string
@@ -105,15 +115,19 @@ type reader struct {
 // take reads a line; what it says need not be right.
 func (r *reader) take(line string) bool {
 	words := strings.Split(line, " ")
-	i := slices.IndexFunc(forms[:], func(f form) bool { return f.word == words[0] })
-	if i < 0 || r.kind < forms[i].after || r.kind > forms[i].last {
+	kind := kindOf(words[0])
+	if kind == atStart {
+		return false
+	}
+	f := forms[kind-atSelf]
+	if r.kind < f.after || r.kind > f.last {
 		return false
 	}
 	rest := words[1:]
-	if len(rest) != forms[i].words || slices.Contains(rest, "") {
+	if len(rest) != f.words || slices.Contains(rest, "") {
 		return false
 	}
-	r.kind = atSelf + i
+	r.kind = kind
 	switch r.kind {
 	case atSelf:
 		r.nodes = append(r.nodes, api.Node{Key: rest[0], Name: rest[1], User: readUser(rest[2])})
